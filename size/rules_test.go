@@ -4,11 +4,11 @@ import (
 	"fmt"
 	"math"
 	"slices"
-	"sync"
 	"testing"
 
 	"blueline/api"
 	"blueline/size"
+	"blueline/trial"
 )
 
 // calls returns calls of all functions, with good and bad arguments, each with a text of its results.
@@ -53,34 +53,9 @@ func calls() []func() string {
 
 // R3, R7: a call returns what it does, whatever was called before it, or is called beside it; none panics.
 func TestNothingIsRemembered(t *testing.T) {
-	l := calls()
-	want := make([]string, len(l))
-	for i, call := range l {
-		want[i] = call()
+	for _, wrong := range trial.Unsteady(calls()) {
+		t.Error(wrong)
 	}
-	again := func(name string, i int) {
-		if s := l[i](); s != want[i] {
-			t.Errorf("%s: call %d: %s, and before %s", name, i, s, want[i])
-		}
-	}
-	for i := range l {
-		again("turned round", len(l)-1-i)
-	}
-	for i := range l {
-		again("mixed", i*7919%len(l))
-		again("mixed, twice", i*7919%len(l))
-	}
-	var wait sync.WaitGroup
-	for k := range 4 {
-		wait.Add(1)
-		go func() {
-			defer wait.Done()
-			for i := range l {
-				again("side by side", (i+k*len(l)/4)%len(l))
-			}
-		}()
-	}
-	wait.Wait()
 }
 
 // R3: lists are not written to, nor is the memory behind their ends, and what is there does not matter.
