@@ -1,38 +1,19 @@
 package sheet_test
 
 import (
-	"math"
 	"math/rand"
 	"slices"
 
 	"blueline/api"
+	"blueline/trial"
 )
 
-func dim(nominal, lower, upper int) api.Dim {
-	return api.Dim{Nominal: nominal, Lower: lower, Upper: upper}
-}
-
-func part(drawing, letter int, dims ...api.Dim) api.Issue {
-	return api.Issue{Drawing: drawing, Letter: letter, Kind: api.KindPart, Dims: dims}
-}
-
-func standard(drawing, letter int, dims ...api.Dim) api.Issue {
-	return api.Issue{Drawing: drawing, Letter: letter, Kind: api.KindStandard, Dims: dims}
-}
-
-// assembly returns an issue of items, each a drawing and its count.
-func assembly(drawing, letter int, items ...int) api.Issue {
-	return api.Issue{Drawing: drawing, Letter: letter, Kind: api.KindAssembly, Items: counted(items...)}
-}
-
-// counted returns items, each a drawing and its count.
-func counted(numbers ...int) []api.Item {
-	var l []api.Item
-	for c := range slices.Chunk(numbers, 2) {
-		l = append(l, api.Item{Drawing: c[0], Count: c[1]})
-	}
-	return l
-}
+// Most tests here are made of these.
+var (
+	dim, part, standard         = trial.Dim, trial.Part, trial.Standard
+	assembly, counted, register = trial.Assembly, trial.Counted, trial.Register
+	example, clone, far         = trial.Example, trial.Clone, trial.Far
+)
 
 // refs returns names of issues, each a drawing and a letter.
 func refs(numbers ...int) []api.Ref {
@@ -50,27 +31,6 @@ func branches(numbers ...int) []api.Branch {
 		l = append(l, api.Branch{Depth: c[0], Drawing: c[1], Letter: c[2], Count: c[3]})
 	}
 	return l
-}
-
-func register(issues ...api.Issue) api.Register { return api.Register{Issues: issues} }
-
-// example returns the register of the chapter's examples.
-func example() api.Register {
-	return register(
-		assembly(10, 1, 20, 2, 30, 1), assembly(10, 2, 20, 1, 30, 2, 40, 2),
-		assembly(20, 1, 30, 3, 50, 1),
-		part(30, 1, dim(150, 100, 200)), part(30, 2, dim(150, 120, 200)),
-		part(40, 1), standard(50, 1))
-}
-
-// clone returns a register in memory of its own.
-func clone(r api.Register) api.Register {
-	l := slices.Clone(r.Issues)
-	for i := range l {
-		l[i].Items = slices.Clone(l[i].Items)
-		l[i].Dims = slices.Clone(l[i].Dims)
-	}
-	return api.Register{Issues: l}
 }
 
 // changed returns the register of the examples with a change.
@@ -160,11 +120,6 @@ func thicket() api.Register {
 	}
 	r.Issues = append(r.Issues, part(20, 1))
 	return r
-}
-
-// far returns numbers that nothing in a register has.
-func far() []int {
-	return []int{0, -1, -10, math.MinInt, math.MinInt + 1, math.MaxInt, math.MaxInt - 1, 1 << 32, 1<<32 + 1, 1<<32 + 10, -1 << 32, 1 << 62, 1<<31 + 1, 1<<16 + 1, 1<<16 + 10, 257, 266, api.MaxId + 1}
 }
 
 // lettersOf returns letters: of each drawing the one that a function tells, by its greatest one.

@@ -83,23 +83,6 @@ func TestChangedSince(t *testing.T) {
 	}
 }
 
-// roomy returns a list with memory behind its end, which something is in.
-func roomy[T any](l []T, behind T) []T {
-	long := append(slices.Clone(l), behind, behind, behind)
-	return long[:len(l)]
-}
-
-// roomyRegister returns a register all of whose lists have memory behind their ends.
-func roomyRegister(r api.Register, n int) api.Register {
-	r = clone(r)
-	for i, x := range r.Issues {
-		r.Issues[i].Items = roomy(x.Items, api.Item{Drawing: n, Count: n})
-		r.Issues[i].Dims = roomy(x.Dims, dim(n, n, n))
-	}
-	r.Issues = roomy(r.Issues, part(n, n, dim(n, n, n)))
-	return r
-}
-
 // allOf is a text of a register with what is behind the ends of its lists.
 func allOf(r api.Register) string {
 	s := ""
@@ -115,8 +98,8 @@ func TestArgumentsAreNotWritten(t *testing.T) {
 	for i, r := range registers {
 		for k, other := range registers {
 			for _, n := range []int{0, 10, 20, 30, 40} {
-				a, b := roomyRegister(r, n), roomyRegister(other, n)
-				letters := roomy(lettersOf(r, firstLetter), n)
+				a, b := trial.RoomyRegister(r, n), trial.RoomyRegister(other, n)
+				letters := trial.Roomy(lettersOf(r, firstLetter), n)
 				before := allOf(a) + allOf(b) + fmt.Sprint(letters[:cap(letters)])
 				for _, d := range []int{10, 30, 1} {
 					plain := callsOf(r, other, lettersOf(r, firstLetter), d, 1, 2)
@@ -134,14 +117,6 @@ func TestArgumentsAreNotWritten(t *testing.T) {
 	}
 }
 
-// scribble writes over a list, and over the memory behind its end.
-func scribble[T any](l []T, with T) {
-	l = l[:cap(l)]
-	for i := range l {
-		l[i] = with
-	}
-}
-
 // scribbleIssues writes over all lists of issues, from the last one on; before, it checks that none was written over with another one.
 func scribbleIssues(t *testing.T, l []api.Issue, want []api.Issue) {
 	t.Helper()
@@ -149,17 +124,17 @@ func scribbleIssues(t *testing.T, l []api.Issue, want []api.Issue) {
 		if fmt.Sprint(l[i]) != fmt.Sprint(want[i]) {
 			t.Error("two lists of a result share memory:", l[i], want[i])
 		}
-		scribble(l[i].Items, api.Item{Drawing: -1, Count: -1})
-		scribble(l[i].Dims, dim(-1, -1, -1))
+		trial.Scribble(l[i].Items, api.Item{Drawing: -1, Count: -1})
+		trial.Scribble(l[i].Dims, dim(-1, -1, -1))
 	}
-	scribble(l, part(-1, -1))
+	trial.Scribble(l, part(-1, -1))
 }
 
 // R3: what is written to a result is not written to arguments, nor to other results.
 func TestResultsAreNew(t *testing.T) {
 	for name, r := range valid() {
-		r = roomyRegister(r, 5)
-		letters := roomy(lettersOf(r, firstLetter), 5)
+		r = trial.RoomyRegister(r, 5)
+		letters := trial.Roomy(lettersOf(r, firstLetter), 5)
 		before := allOf(r) + fmt.Sprint(letters[:cap(letters)])
 		for _, x := range r.Issues {
 			all := callsOf(r, r, letters, x.Drawing, x.Letter, 1)
@@ -168,20 +143,20 @@ func TestResultsAreNew(t *testing.T) {
 				texts = append(texts, call())
 			}
 			l, _ := sheet.Drawings(r)
-			scribble(l, -1)
+			trial.Scribble(l, -1)
 			issue, _ := sheet.At(r, api.Ref{Drawing: x.Drawing, Letter: x.Letter})
 			scribbleIssues(t, []api.Issue{issue}, []api.Issue{x})
 			parts, _ := sheet.Explode(r, letters, x.Drawing)
-			scribble(parts, api.Item{Drawing: -1, Count: -1})
+			trial.Scribble(parts, api.Item{Drawing: -1, Count: -1})
 			tree, _ := sheet.Tree(r, letters, x.Drawing)
-			scribble(tree, api.Branch{Depth: -1})
+			trial.Scribble(tree, api.Branch{Depth: -1})
 			uses, _ := sheet.Uses(r, x.Drawing)
-			scribble(uses, api.Ref{Drawing: -1})
+			trial.Scribble(uses, api.Ref{Drawing: -1})
 			above, _ := sheet.Above(r, letters, x.Drawing)
-			scribble(above, -1)
+			trial.Scribble(above, -1)
 			changes, dims, _ := sheet.Differ(r, x.Drawing, x.Letter, 1)
-			scribble(changes, api.Change{Drawing: -1})
-			scribble(dims, -1)
+			trial.Scribble(changes, api.Change{Drawing: -1})
+			trial.Scribble(dims, -1)
 			for i, call := range all {
 				if s := call(); s != texts[i] {
 					t.Error(name, x, i, s, "and before", texts[i])
@@ -199,7 +174,7 @@ func TestMergedIsNew(t *testing.T) {
 	rnd := rand.New(rand.NewSource(3))
 	for range 200 {
 		r := someRegister(rnd)
-		a, b := roomyRegister(cut(rnd, r), 3), roomyRegister(cut(rnd, r), 4)
+		a, b := trial.RoomyRegister(cut(rnd, r), 3), trial.RoomyRegister(cut(rnd, r), 4)
 		before := allOf(a) + allOf(b)
 		merged, e := sheet.Merge(a, b)
 		if e != api.OK {
