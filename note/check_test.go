@@ -5,7 +5,6 @@ import (
 	"math"
 	"math/rand"
 	"slices"
-	"strings"
 	"testing"
 
 	"blueline/api"
@@ -17,14 +16,14 @@ import (
 // wrongNotes returns notes that are not valid, with registers that are.
 func wrongNotes() map[string]api.Notes {
 	m := map[string]api.Notes{
-		"13 notes":           {Register: lettered(7, 8), Notes: append(slices.Clone(thread().Notes), gives(13, 99, 7, 1, 1, 1))},
+		"13 notes":           {Register: trial.Lettered(7, 8), Notes: append(slices.Clone(thread().Notes), trial.Gives(13, 99, 7, 1, 1, 1))},
 		"number twice":       changed(func(l []api.Note) { l[3].Number = 101 }),
-		"twice in a day":     noted(gives(1, 0, 10, 1, 1, 1), gives(1, 0, 10, 2, 1, 1)),
+		"twice in a day":     trial.Noted(trial.Gives(1, 0, 10, 1, 1, 1), trial.Gives(1, 0, 10, 2, 1, 1)),
 		"days turned":        changed(func(l []api.Note) { l[1].Day = 99 }),
 		"last day turned":    changed(func(l []api.Note) { l[3].Day = 299 }),
-		"numbers turned":     noted(gives(2, 5, 10, 1, 1, 1), gives(1, 5, 10, 1, 1, 1)),
-		"turned around one":  noted(gives(3, 5, 10, 1, 1, 1), gives(1, 6, 10, 1, 1, 1), gives(2, 5, 10, 1, 1, 1)),
-		"6 open":             {Register: lettered(7, 8), Notes: open(6)},
+		"numbers turned":     trial.Noted(trial.Gives(2, 5, 10, 1, 1, 1), trial.Gives(1, 5, 10, 1, 1, 1)),
+		"turned around one":  trial.Noted(trial.Gives(3, 5, 10, 1, 1, 1), trial.Gives(1, 6, 10, 1, 1, 1), trial.Gives(2, 5, 10, 1, 1, 1)),
+		"6 open":             {Register: trial.Lettered(7, 8), Notes: open(6)},
 		"from above to":      changed(func(l []api.Note) { l[1].From = 21 }),
 		"from above last to": changed(func(l []api.Note) { l[3].To = 14 }),
 		"no such letter":     changed(func(l []api.Note) { l[0].Letter = 3 }),
@@ -34,8 +33,8 @@ func wrongNotes() map[string]api.Notes {
 		"no such drawing":    changed(func(l []api.Note) { l[3].Drawing = 35 }),
 		"other's letter":     changed(func(l []api.Note) { l[0].Drawing = 40 }),
 		"nothing":            changed(func(l []api.Note) { l[2].Cancels = 0 }),
-		"nothing at first":   noted(api.Note{Number: 1, Signed: api.KnownYes, From: 1, To: 1}),
-		"zero":               noted(api.Note{}),
+		"nothing at first":   trial.Noted(api.Note{Number: 1, Signed: api.KnownYes, From: 1, To: 1}),
+		"zero":               trial.Noted(api.Note{}),
 		"cancels itself":     changed(func(l []api.Note) { l[2].Cancels = 103 }),
 		"gives, and itself":  changed(func(l []api.Note) { l[1].Cancels = 102 }),
 		"cancels the next":   changed(func(l []api.Note) { l[2].Cancels = 104 }),
@@ -61,18 +60,18 @@ func wrongNotes() map[string]api.Notes {
 			m[fmt.Sprint("gives, and cancels ", far)] = changed(func(l []api.Note) { l[3].Cancels = far })
 		}
 		if far < 257 || far > api.MaxId {
-			m[fmt.Sprint("number ", far)] = noted(gives(far, 0, 10, 1, 1, 1))
-			m[fmt.Sprint("both machines ", far)] = noted(gives(1, 0, 10, 1, far, far))
-			m[fmt.Sprint("from ", far)] = noted(gives(1, 0, 10, 1, far, 999))
-			m[fmt.Sprint("to ", far)] = noted(gives(1, 0, 10, 1, 1, far))
+			m[fmt.Sprint("number ", far)] = trial.Noted(trial.Gives(far, 0, 10, 1, 1, 1))
+			m[fmt.Sprint("both machines ", far)] = trial.Noted(trial.Gives(1, 0, 10, 1, far, far))
+			m[fmt.Sprint("from ", far)] = trial.Noted(trial.Gives(1, 0, 10, 1, far, 999))
+			m[fmt.Sprint("to ", far)] = trial.Noted(trial.Gives(1, 0, 10, 1, 1, far))
 		}
 	}
 	for _, n := range []int{-1, api.MaxDay + 1, math.MinInt, math.MaxInt, 1 << 32, -1 << 32} {
-		m[fmt.Sprint("day ", n)] = noted(gives(1, n, 10, 1, 1, 1))
-		m[fmt.Sprint("last day ", n)] = noted(gives(1, 5, 10, 1, 1, 1), gives(2, n, 10, 1, 1, 1))
+		m[fmt.Sprint("day ", n)] = trial.Noted(trial.Gives(1, n, 10, 1, 1, 1))
+		m[fmt.Sprint("last day ", n)] = trial.Noted(trial.Gives(1, 5, 10, 1, 1, 1), trial.Gives(2, n, 10, 1, 1, 1))
 	}
-	m["machine 1000"] = noted(gives(1, 0, 10, 1, 1, 1000))
-	m["from 1000 on"] = noted(gives(1, 0, 10, 1, 1000, 1000))
+	m["machine 1000"] = trial.Noted(trial.Gives(1, 0, 10, 1, 1, 1000))
+	m["from 1000 on"] = trial.Noted(trial.Gives(1, 0, 10, 1, 1000, 1000))
 	return m
 }
 
@@ -80,7 +79,7 @@ func wrongNotes() map[string]api.Notes {
 func open(count int) []api.Note {
 	var l []api.Note
 	for i := range count {
-		l = append(l, as(api.KnownOpen, gives(1+i, 0, 7, 1+i%8, 1, 9)))
+		l = append(l, trial.As(api.KnownOpen, trial.Gives(1+i, 0, 7, 1+i%8, 1, 9)))
 	}
 	return l
 }
@@ -122,7 +121,7 @@ func TestCheck(t *testing.T) {
 	if len(seen) != 2 {
 		t.Error("not both errors of registers:", seen)
 	}
-	for name, n := range map[string]api.Notes{"5 open": {Register: lettered(7, 8), Notes: open(5)}, "5 of 12": thread()} {
+	for name, n := range map[string]api.Notes{"5 open": {Register: trial.Lettered(7, 8), Notes: open(5)}, "5 of 12": thread()} {
 		if e := note.Check(n); e != api.OK {
 			t.Error(name, e)
 		}
@@ -146,7 +145,7 @@ func naive(n api.Notes) api.Errno {
 	numbers := map[int]bool{}
 	for i, x := range n.Notes {
 		good := 1 <= x.Number && x.Number <= 9999 && !numbers[x.Number] && 0 <= x.Day && x.Day <= 14610
-		good = good && (i == 0 || inOrder(n.Notes[i-1], x) < 0)
+		good = good && (i == 0 || trial.InOrder(n.Notes[i-1], x) < 0)
 		good = good && x.Signed <= 2 && 1 <= x.From && x.From <= x.To && x.To <= 999
 		good = good && isIssue(n.Register, x.Drawing, x.Letter) && (x.Cancels == 0 || numbers[x.Cancels])
 		good = good && (x.Drawing != 0 || x.Cancels != 0) && x.Ways <= 3
@@ -155,7 +154,7 @@ func naive(n api.Notes) api.Errno {
 		}
 		numbers[x.Number] = true
 	}
-	if len(n.Notes) > 12 || len(openOf(n)) > 5 {
+	if len(n.Notes) > 12 || len(trial.OpenOf(n)) > 5 {
 		return api.ErrNotes
 	}
 	return api.OK
@@ -197,7 +196,7 @@ func TestCheckIsNaive(t *testing.T) {
 	rnd := rand.New(rand.NewSource(31))
 	seen := map[api.Errno]int{}
 	for range 20000 {
-		n := someNotes(rnd)
+		n := trial.SomeNotes(rnd)
 		for range rnd.Intn(3) {
 			if len(n.Notes) > 0 {
 				spoil(rnd, n.Notes)
@@ -222,41 +221,33 @@ type arguments struct {
 	number          int
 }
 
-// function is a function of the chapter but Check, with words that tell which arguments it takes.
-type function struct {
-	name, takes string
-	call        func(n api.Notes, a arguments) (string, api.Errno)
-}
-
-func (f function) has(word string) bool { return strings.Contains(f.takes, word) }
-
 func told[T any](l T, e api.Errno) (string, api.Errno) { return fmt.Sprint(l), e }
 
 // functions returns all functions of the chapter but Check.
-func functions() []function {
-	return []function{
-		{"Force", "truth machine", func(n api.Notes, a arguments) (string, api.Errno) { return told(note.Force(n, a.signed, a.machine)) }},
-		{"Letters", "truth machine", func(n api.Notes, a arguments) (string, api.Errno) {
+func functions() []trial.Function[api.Notes, arguments] {
+	return []trial.Function[api.Notes, arguments]{
+		trial.Of("Force", "truth machine", func(n api.Notes, a arguments) (string, api.Errno) { return told(note.Force(n, a.signed, a.machine)) }),
+		trial.Of("Letters", "truth machine", func(n api.Notes, a arguments) (string, api.Errno) {
 			return told(note.Letters(n, a.signed, a.machine))
-		}},
-		{"By", "truth machine drawing", func(n api.Notes, a arguments) (string, api.Errno) {
+		}),
+		trial.Of("By", "truth machine drawing", func(n api.Notes, a arguments) (string, api.Errno) {
 			return told(note.By(n, a.signed, a.drawing, a.machine))
-		}},
-		{"Stretches", "truth drawing", func(n api.Notes, a arguments) (string, api.Errno) {
+		}),
+		trial.Of("Stretches", "truth drawing", func(n api.Notes, a arguments) (string, api.Errno) {
 			return told(note.Stretches(n, a.signed, a.drawing))
-		}},
-		{"First", "truth drawing", func(n api.Notes, a arguments) (string, api.Errno) {
+		}),
+		trial.Of("First", "truth drawing", func(n api.Notes, a arguments) (string, api.Errno) {
 			return told(note.First(n, a.signed, api.Ref{Drawing: a.drawing, Letter: a.letter}))
-		}},
-		{"Possible", "machine drawing", func(n api.Notes, a arguments) (string, api.Errno) {
+		}),
+		trial.Of("Possible", "machine drawing", func(n api.Notes, a arguments) (string, api.Errno) {
 			return told(note.Possible(n, a.drawing, a.machine))
-		}},
-		{"Sure", "machine", func(n api.Notes, a arguments) (string, api.Errno) { return told(note.Sure(n, a.machine)) }},
-		{"Matters", "machine", func(n api.Notes, a arguments) (string, api.Errno) { return told(note.Matters(n, a.machine)) }},
-		{"Clash", "truth", func(n api.Notes, a arguments) (string, api.Errno) { return told(note.Clash(n, a.signed)) }},
-		{"Withdraw", "truth", func(n api.Notes, a arguments) (string, api.Errno) { return told(note.Withdraw(n, a.signed)) }},
-		{"Settle", "number", func(n api.Notes, a arguments) (string, api.Errno) { return told(note.Settle(n, a.number, true)) }},
-		{"Settle, not signed", "number", func(n api.Notes, a arguments) (string, api.Errno) { return told(note.Settle(n, a.number, false)) }},
+		}),
+		trial.Of("Sure", "machine", func(n api.Notes, a arguments) (string, api.Errno) { return told(note.Sure(n, a.machine)) }),
+		trial.Of("Matters", "machine", func(n api.Notes, a arguments) (string, api.Errno) { return told(note.Matters(n, a.machine)) }),
+		trial.Of("Clash", "truth", func(n api.Notes, a arguments) (string, api.Errno) { return told(note.Clash(n, a.signed)) }),
+		trial.Of("Withdraw", "truth", func(n api.Notes, a arguments) (string, api.Errno) { return told(note.Withdraw(n, a.signed)) }),
+		trial.Of("Settle", "number", func(n api.Notes, a arguments) (string, api.Errno) { return told(note.Settle(n, a.number, true)) }),
+		trial.Of("Settle, not signed", "number", func(n api.Notes, a arguments) (string, api.Errno) { return told(note.Settle(n, a.number, false)) }),
 	}
 }
 
@@ -277,37 +268,21 @@ func isNothing(results string) bool {
 func TestOrderOfErrors(t *testing.T) {
 	good := arguments{drawing: 10, letter: 1, machine: 9, number: 102}
 	bad := arguments{drawing: 11, letter: 1, machine: 1000, number: 101}
-	for _, f := range functions() {
-		for _, of := range []map[string]api.Notes{wrongNotes(), wrongRegisters()} {
-			for name, n := range of {
-				for _, a := range []arguments{good, bad, {}, {signed: []int{101}, drawing: 10, letter: 1, machine: 9, number: 102}} {
-					if s, e := f.call(n, a); e != note.Check(n) || !isNothing(s) {
-						t.Error(f.name, name, a, s, e)
-					}
-				}
-			}
+	for _, of := range []map[string]api.Notes{wrongNotes(), wrongRegisters()} {
+		other := good
+		other.signed = []int{101}
+		for _, early := range trial.Early(functions(), of, []arguments{good, bad, {}, other}, note.Check, isNothing) {
+			t.Error(early)
 		}
-		for bits := range 8 {
-			a, want := good, api.OK
-			if bits&1 > 0 {
-				if a.drawing, a.number = bad.drawing, bad.number; f.has("drawing") || f.has("number") {
-					want = api.ErrNone
-				}
-			}
-			if bits&2 > 0 {
-				if a.machine = bad.machine; f.has("machine") {
-					want = api.ErrArg
-				}
-			}
-			if bits&4 > 0 {
-				if a.signed = []int{104}; f.has("truth") {
-					want = api.ErrTruth
-				}
-			}
-			if s, e := f.call(example(), a); e != want || want != api.OK && !isNothing(s) {
-				t.Error(f.name, bits, s, e, "and not", want)
-			}
-		}
+	}
+	wrongs := []trial.Wrong[arguments]{
+		trial.Badly("truth", func(a *arguments) { a.signed = []int{104} }, api.ErrTruth),
+		trial.Badly("machine", func(a *arguments) { a.machine = bad.machine }, api.ErrArg),
+		trial.Badly("drawing", func(a *arguments) { a.drawing = bad.drawing }, api.ErrNone),
+		trial.Badly("number", func(a *arguments) { a.number = bad.number }, api.ErrNone),
+	}
+	for _, wrong := range trial.Disordered(functions(), example(), good, wrongs, isNothing) {
+		t.Error(wrong)
 	}
 }
 
@@ -317,29 +292,29 @@ func TestWrongArguments(t *testing.T) {
 	for _, f := range functions() {
 		for _, signed := range wrongTruths() {
 			a := arguments{signed, 30, 1, 9, 102}
-			if s, e := f.call(n, a); f.has("truth") && (e != api.ErrTruth || !isNothing(s)) || !f.has("truth") && e != api.OK {
-				t.Error(f.name, len(signed), signed[0], s, e)
+			if s, e := f.Call(n, a); f.Has("truth") && (e != api.ErrTruth || !isNothing(s)) || !f.Has("truth") && e != api.OK {
+				t.Error(f.Name, len(signed), signed[0], s, e)
 			}
 		}
 		for _, far := range append(trial.Far(), 1000, 2000) {
 			if far == 257 || far == 266 {
 				continue
 			}
-			if s, e := f.call(n, arguments{nil, 30, 1, far, 102}); f.has("machine") && (e != api.ErrArg || !isNothing(s)) || !f.has("machine") && e != api.OK {
-				t.Error(f.name, far, s, e)
+			if s, e := f.Call(n, arguments{nil, 30, 1, far, 102}); f.Has("machine") && (e != api.ErrArg || !isNothing(s)) || !f.Has("machine") && e != api.OK {
+				t.Error(f.Name, far, s, e)
 			}
 		}
 		for _, far := range append(trial.Far(), 1, 9, 35, 100, 102) {
-			if s, e := f.call(n, arguments{nil, far, 1, 9, 102}); f.has("drawing") && (e != api.ErrNone || !isNothing(s)) || !f.has("drawing") && e != api.OK {
-				t.Error(f.name, far, s, e)
+			if s, e := f.Call(n, arguments{nil, far, 1, 9, 102}); f.Has("drawing") && (e != api.ErrNone || !isNothing(s)) || !f.Has("drawing") && e != api.OK {
+				t.Error(f.Name, far, s, e)
 			}
 		}
 	}
 	for _, a := range []arguments{{machine: 1}, {machine: api.MaxMachine}} {
 		for _, f := range functions() {
 			a.drawing, a.letter, a.number = 30, 1, 102
-			if s, e := f.call(n, a); e != api.OK {
-				t.Error(f.name, a, s, e)
+			if s, e := f.Call(n, a); e != api.OK {
+				t.Error(f.Name, a, s, e)
 			}
 		}
 	}
@@ -348,7 +323,7 @@ func TestWrongArguments(t *testing.T) {
 // P3.1: just the parts of the open notes, in increasing order, tell truths.
 func TestTruths(t *testing.T) {
 	n := thread() // The notes 11, 8, 5 and 2 are open, in this order.
-	open := openOf(n)
+	open := trial.OpenOf(n)
 	tells := 0
 	for a := range 13 {
 		for b := range 13 {
@@ -368,7 +343,7 @@ func TestTruths(t *testing.T) {
 	if tells != 4 {
 		t.Error(tells, "truths of three")
 	}
-	for _, signed := range truthsOf(n) {
+	for _, signed := range trial.TruthsOf(n) {
 		if _, e := note.Withdraw(n, signed); e != api.OK {
 			t.Error(signed, e)
 		}

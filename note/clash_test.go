@@ -7,6 +7,7 @@ import (
 
 	"blueline/api"
 	"blueline/note"
+	"blueline/trial"
 )
 
 // P3.5, P3.6: the examples.
@@ -38,29 +39,29 @@ func TestClashKinds(t *testing.T) {
 		pairs  [][2]int
 		gone   []int
 	}{
-		"the same letter":       {[]api.Note{gives(1, 0, 30, 2, 1, 9), gives(2, 0, 30, 2, 1, 9)}, nil, nil, nil},
-		"a greater letter":      {[]api.Note{gives(1, 0, 30, 1, 1, 9), gives(2, 0, 30, 2, 1, 9)}, nil, nil, nil},
-		"a lesser letter":       {[]api.Note{gives(1, 0, 30, 2, 1, 9), gives(2, 0, 30, 1, 9, 9)}, nil, [][2]int{{1, 2}}, []int{1}},
-		"other machines":        {[]api.Note{gives(1, 0, 30, 2, 1, 9), gives(2, 0, 30, 1, 10, 99)}, nil, nil, nil},
-		"other drawings":        {[]api.Note{gives(1, 0, 30, 2, 1, 9), gives(2, 0, 10, 1, 1, 9)}, nil, nil, nil},
-		"the lesser Number":     {[]api.Note{gives(2, 0, 30, 2, 1, 9), gives(1, 1, 30, 1, 1, 9)}, nil, [][2]int{{2, 1}}, []int{1}},
-		"not signed":            {[]api.Note{gives(1, 0, 30, 2, 1, 9), as(api.KnownNo, gives(2, 0, 30, 1, 1, 9))}, nil, nil, nil},
-		"open":                  {[]api.Note{gives(1, 0, 30, 2, 1, 9), as(k, gives(2, 0, 30, 1, 1, 9))}, nil, nil, nil},
-		"open, signed":          {[]api.Note{gives(1, 0, 30, 2, 1, 9), as(k, gives(2, 0, 30, 1, 1, 9))}, []int{2}, [][2]int{{1, 2}}, []int{1}},
-		"cancelled":             {[]api.Note{gives(1, 0, 30, 2, 1, 9), gives(2, 0, 30, 1, 5, 5), cancels(3, 0, 1, 5, 6)}, nil, nil, nil},
-		"cancelled in part":     {[]api.Note{gives(1, 0, 30, 2, 1, 9), gives(2, 0, 30, 1, 5, 6), cancels(3, 0, 1, 6, 6)}, nil, [][2]int{{1, 2}}, []int{1}},
-		"cancelled by it":       {[]api.Note{gives(1, 0, 30, 2, 1, 9), {Number: 2, Signed: api.KnownYes, Drawing: 30, Letter: 1, From: 5, To: 6, Cancels: 1}}, nil, nil, nil},
-		"cancelled, not then":   {[]api.Note{gives(1, 0, 30, 2, 1, 9), cancels(2, 0, 1, 1, 9), gives(3, 0, 30, 1, 5, 6), cancels(4, 0, 2, 6, 9)}, nil, [][2]int{{1, 3}}, []int{1}},
-		"cancelled, or freed":   {[]api.Note{gives(5, 0, 30, 2, 1, 9), cancels(7, 1, 5, 1, 9), gives(9, 2, 30, 1, 5, 6), cancels(4, 3, 7, 1, 9)}, nil, [][2]int{{5, 9}}, []int{4}},
-		"freed for some":        {[]api.Note{gives(5, 0, 30, 2, 1, 9), cancels(7, 1, 5, 1, 5), gives(9, 2, 30, 1, 5, 6), cancels(4, 3, 7, 1, 9)}, nil, [][2]int{{5, 9}}, []int{5}},
-		"one against two":       {[]api.Note{gives(1, 0, 30, 2, 1, 5), gives(2, 0, 30, 2, 6, 9), gives(3, 0, 30, 1, 5, 6)}, nil, [][2]int{{1, 3}, {2, 3}}, []int{3}},
-		"two against one":       {[]api.Note{gives(1, 0, 30, 2, 1, 9), gives(2, 0, 30, 1, 5, 6), gives(3, 0, 30, 1, 5, 6)}, nil, [][2]int{{1, 2}, {1, 3}}, []int{1}},
-		"two drawings":          {[]api.Note{gives(1, 0, 30, 2, 1, 9), gives(2, 0, 10, 2, 1, 9), gives(3, 0, 30, 1, 5, 6), gives(4, 0, 10, 1, 9, 9)}, nil, [][2]int{{1, 3}, {2, 4}}, []int{1, 2}},
-		"by days":               {[]api.Note{gives(9, 0, 30, 2, 1, 9), gives(8, 1, 10, 2, 1, 9), gives(7, 2, 30, 1, 5, 6), gives(6, 3, 10, 1, 9, 9)}, nil, [][2]int{{9, 7}, {8, 6}}, []int{6, 7}},
-		"far apart":             {[]api.Note{gives(1, 0, 30, 2, 1, 999), gives(2, 0, 30, 1, 999, 999)}, nil, [][2]int{{1, 2}}, []int{1}},
-		"better none cancelled": {[]api.Note{gives(3, 0, 30, 2, 1, 9), gives(4, 0, 30, 1, 1, 9), {Number: 5, Signed: api.KnownYes, Drawing: 10, Letter: 2, From: 1, To: 9, Cancels: 4}, gives(6, 0, 10, 1, 9, 9)}, nil, [][2]int{{5, 6}}, []int{6}},
+		"the same letter":       {[]api.Note{trial.Gives(1, 0, 30, 2, 1, 9), trial.Gives(2, 0, 30, 2, 1, 9)}, nil, nil, nil},
+		"a greater letter":      {[]api.Note{trial.Gives(1, 0, 30, 1, 1, 9), trial.Gives(2, 0, 30, 2, 1, 9)}, nil, nil, nil},
+		"a lesser letter":       {[]api.Note{trial.Gives(1, 0, 30, 2, 1, 9), trial.Gives(2, 0, 30, 1, 9, 9)}, nil, [][2]int{{1, 2}}, []int{1}},
+		"other machines":        {[]api.Note{trial.Gives(1, 0, 30, 2, 1, 9), trial.Gives(2, 0, 30, 1, 10, 99)}, nil, nil, nil},
+		"other drawings":        {[]api.Note{trial.Gives(1, 0, 30, 2, 1, 9), trial.Gives(2, 0, 10, 1, 1, 9)}, nil, nil, nil},
+		"the lesser Number":     {[]api.Note{trial.Gives(2, 0, 30, 2, 1, 9), trial.Gives(1, 1, 30, 1, 1, 9)}, nil, [][2]int{{2, 1}}, []int{1}},
+		"not signed":            {[]api.Note{trial.Gives(1, 0, 30, 2, 1, 9), trial.As(api.KnownNo, trial.Gives(2, 0, 30, 1, 1, 9))}, nil, nil, nil},
+		"open":                  {[]api.Note{trial.Gives(1, 0, 30, 2, 1, 9), trial.As(k, trial.Gives(2, 0, 30, 1, 1, 9))}, nil, nil, nil},
+		"open, signed":          {[]api.Note{trial.Gives(1, 0, 30, 2, 1, 9), trial.As(k, trial.Gives(2, 0, 30, 1, 1, 9))}, []int{2}, [][2]int{{1, 2}}, []int{1}},
+		"cancelled":             {[]api.Note{trial.Gives(1, 0, 30, 2, 1, 9), trial.Gives(2, 0, 30, 1, 5, 5), trial.Cancels(3, 0, 1, 5, 6)}, nil, nil, nil},
+		"cancelled in part":     {[]api.Note{trial.Gives(1, 0, 30, 2, 1, 9), trial.Gives(2, 0, 30, 1, 5, 6), trial.Cancels(3, 0, 1, 6, 6)}, nil, [][2]int{{1, 2}}, []int{1}},
+		"cancelled by it":       {[]api.Note{trial.Gives(1, 0, 30, 2, 1, 9), {Number: 2, Signed: api.KnownYes, Drawing: 30, Letter: 1, From: 5, To: 6, Cancels: 1}}, nil, nil, nil},
+		"cancelled, not then":   {[]api.Note{trial.Gives(1, 0, 30, 2, 1, 9), trial.Cancels(2, 0, 1, 1, 9), trial.Gives(3, 0, 30, 1, 5, 6), trial.Cancels(4, 0, 2, 6, 9)}, nil, [][2]int{{1, 3}}, []int{1}},
+		"cancelled, or freed":   {[]api.Note{trial.Gives(5, 0, 30, 2, 1, 9), trial.Cancels(7, 1, 5, 1, 9), trial.Gives(9, 2, 30, 1, 5, 6), trial.Cancels(4, 3, 7, 1, 9)}, nil, [][2]int{{5, 9}}, []int{4}},
+		"freed for some":        {[]api.Note{trial.Gives(5, 0, 30, 2, 1, 9), trial.Cancels(7, 1, 5, 1, 5), trial.Gives(9, 2, 30, 1, 5, 6), trial.Cancels(4, 3, 7, 1, 9)}, nil, [][2]int{{5, 9}}, []int{5}},
+		"one against two":       {[]api.Note{trial.Gives(1, 0, 30, 2, 1, 5), trial.Gives(2, 0, 30, 2, 6, 9), trial.Gives(3, 0, 30, 1, 5, 6)}, nil, [][2]int{{1, 3}, {2, 3}}, []int{3}},
+		"two against one":       {[]api.Note{trial.Gives(1, 0, 30, 2, 1, 9), trial.Gives(2, 0, 30, 1, 5, 6), trial.Gives(3, 0, 30, 1, 5, 6)}, nil, [][2]int{{1, 2}, {1, 3}}, []int{1}},
+		"two drawings":          {[]api.Note{trial.Gives(1, 0, 30, 2, 1, 9), trial.Gives(2, 0, 10, 2, 1, 9), trial.Gives(3, 0, 30, 1, 5, 6), trial.Gives(4, 0, 10, 1, 9, 9)}, nil, [][2]int{{1, 3}, {2, 4}}, []int{1, 2}},
+		"by days":               {[]api.Note{trial.Gives(9, 0, 30, 2, 1, 9), trial.Gives(8, 1, 10, 2, 1, 9), trial.Gives(7, 2, 30, 1, 5, 6), trial.Gives(6, 3, 10, 1, 9, 9)}, nil, [][2]int{{9, 7}, {8, 6}}, []int{6, 7}},
+		"far apart":             {[]api.Note{trial.Gives(1, 0, 30, 2, 1, 999), trial.Gives(2, 0, 30, 1, 999, 999)}, nil, [][2]int{{1, 2}}, []int{1}},
+		"better none cancelled": {[]api.Note{trial.Gives(3, 0, 30, 2, 1, 9), trial.Gives(4, 0, 30, 1, 1, 9), {Number: 5, Signed: api.KnownYes, Drawing: 10, Letter: 2, From: 1, To: 9, Cancels: 4}, trial.Gives(6, 0, 10, 1, 9, 9)}, nil, [][2]int{{5, 6}}, []int{6}},
 	} {
-		n := noted(slices.SortedFunc(slices.Values(x.list), inOrder)...)
+		n := trial.Noted(slices.SortedFunc(slices.Values(x.list), trial.InOrder)...)
 		if l, e := note.Clash(n, x.signed); !slices.Equal(l, x.pairs) || e != api.OK {
 			t.Error(name, l, e)
 		}
@@ -93,9 +94,9 @@ func TestClash(t *testing.T) {
 	rnd := rand.New(rand.NewSource(40))
 	several := 0
 	for range 1500 {
-		n := someNotes(rnd)
-		signed := someTruth(rnd, n)
-		want := pairsOf(n.Notes, isSigned(n, signed), machinesOf(n))
+		n := trial.SomeNotes(rnd)
+		signed := trial.SomeTruth(rnd, n)
+		want := pairsOf(n.Notes, isSigned(n, signed), trial.MachinesOf(n))
 		if l, e := note.Clash(n, signed); !slices.Equal(l, want) || e != api.OK {
 			t.Fatal(n, signed, l, e, want)
 		}
@@ -128,7 +129,7 @@ func fewest(n api.Notes, signed []int) []int {
 		numbers = append(numbers, x.Number)
 	}
 	slices.Sort(numbers)
-	machines := machinesOf(n)
+	machines := trial.MachinesOf(n)
 	for count := range len(numbers) + 1 {
 		if !choices(numbers, count, func(l []int) bool {
 			is := isSigned(n, signed)
@@ -149,14 +150,14 @@ func TestWithdraw(t *testing.T) {
 	rnd := rand.New(rand.NewSource(41))
 	seen := map[int]int{}
 	for range 400 {
-		n := someNotes(rnd)
-		signed := someTruth(rnd, n)
+		n := trial.SomeNotes(rnd)
+		signed := trial.SomeTruth(rnd, n)
 		want := fewest(n, signed)
 		l, e := note.Withdraw(n, signed)
 		if !slices.Equal(l, want) || e != api.OK {
 			t.Fatal(n, signed, l, e, want)
 		}
-		without := clone(n)
+		without := trial.CloneNotes(n)
 		for i, x := range n.Notes {
 			if without.Notes[i].Signed = api.KnownNo; !slices.Contains(l, x.Number) && isSigned(n, signed)[x.Number] {
 				without.Notes[i].Signed = api.KnownYes
@@ -174,9 +175,9 @@ func TestWithdraw(t *testing.T) {
 
 // P3.6: as many as can be have to go: of twelve notes of falling letters all but those of one letter.
 func TestWithdrawMany(t *testing.T) {
-	n := api.Notes{Register: lettered(7, 8)}
+	n := api.Notes{Register: trial.Lettered(7, 8)}
 	for i := range api.MaxNotes {
-		n.Notes = append(n.Notes, gives(100-i, i, 7, 8-i*2/3, 1, 999))
+		n.Notes = append(n.Notes, trial.Gives(100-i, i, 7, 8-i*2/3, 1, 999))
 	}
 	if l, e := note.Withdraw(n, nil); !slices.Equal(l, fewest(n, nil)) || len(l) != 10 || e != api.OK {
 		t.Error(l, e)

@@ -76,18 +76,18 @@ func TestStretchesExamples(t *testing.T) {
 			t.Error(far, m, e)
 		}
 	}
-	all := noted(gives(1, 0, 30, 2, 1, 999), gives(2, 0, 30, 2, 5, 7), cancels(3, 0, 2, 6, 6))
+	all := trial.Noted(trial.Gives(1, 0, 30, 2, 1, 999), trial.Gives(2, 0, 30, 2, 5, 7), trial.Cancels(3, 0, 2, 6, 6))
 	if l, e := note.Stretches(all, nil, 30); !slices.Equal(l, []api.Stretch{{From: 1, To: 999, Letter: 2}}) || e != api.OK {
 		t.Error(l, e)
 	}
 	if m, e := note.First(all, nil, api.Ref{Drawing: 30, Letter: 1}); m != 0 || e != api.ErrNone {
 		t.Error(m, e)
 	}
-	ends := noted(gives(1, 0, 30, 2, 2, 998))
+	ends := trial.Noted(trial.Gives(1, 0, 30, 2, 2, 998))
 	if l, e := note.Stretches(ends, nil, 30); !slices.Equal(l, []api.Stretch{{From: 1, To: 1, Letter: 1}, {From: 2, To: 998, Letter: 2}, {From: 999, To: 999, Letter: 1}}) || e != api.OK {
 		t.Error(l, e)
 	}
-	last := noted(gives(1, 0, 30, 2, 999, 999))
+	last := trial.Noted(trial.Gives(1, 0, 30, 2, 999, 999))
 	if m, e := note.First(last, nil, api.Ref{Drawing: 30, Letter: 2}); m != 999 || e != api.OK {
 		t.Error(m, e)
 	}
@@ -95,9 +95,9 @@ func TestStretchesExamples(t *testing.T) {
 
 // P3.2: notes that cancel notes that cancel: for some machines, signed or not.
 func TestCancelled(t *testing.T) {
-	n := noted(
-		gives(9, 0, 30, 2, 1, 100), cancels(8, 1, 9, 10, 50), cancels(7, 2, 8, 20, 40), cancels(6, 3, 7, 30, 35),
-		as(api.KnownOpen, cancels(5, 4, 6, 31, 32)), as(api.KnownNo, cancels(4, 5, 9, 1, 100)), cancels(3, 6, 8, 50, 60), cancels(2, 7, 4, 1, 999))
+	n := trial.Noted(
+		trial.Gives(9, 0, 30, 2, 1, 100), trial.Cancels(8, 1, 9, 10, 50), trial.Cancels(7, 2, 8, 20, 40), trial.Cancels(6, 3, 7, 30, 35),
+		trial.As(api.KnownOpen, trial.Cancels(5, 4, 6, 31, 32)), trial.As(api.KnownNo, trial.Cancels(4, 5, 9, 1, 100)), trial.Cancels(3, 6, 8, 50, 60), trial.Cancels(2, 7, 4, 1, 999))
 	for _, x := range []struct {
 		machine       int
 		force, signed []int
@@ -123,9 +123,9 @@ func TestForce(t *testing.T) {
 	rnd := rand.New(rand.NewSource(32))
 	given := 0
 	for range 400 {
-		n := someNotes(rnd)
-		signed := someTruth(rnd, n)
-		for _, m := range machinesOf(n) {
+		n := trial.SomeNotes(rnd)
+		signed := trial.SomeTruth(rnd, n)
+		for _, m := range trial.MachinesOf(n) {
 			var want []int
 			for i, in := range forceOf(n.Notes, isSigned(n, signed), m) {
 				if in {
@@ -152,7 +152,7 @@ func TestForce(t *testing.T) {
 func byLastNote(t *testing.T, n api.Notes, signed []int, machine int, force, letters []int) int {
 	t.Helper()
 	given := 0
-	for i, d := range drawingsOf(n) {
+	for i, d := range trial.DrawingsOf(n) {
 		by, e := note.By(n, signed, d, machine)
 		letter, want := letterOf(n, signed, d, machine)
 		if by != want || letters[i] != letter || e != api.OK {
@@ -178,18 +178,18 @@ func byLastNote(t *testing.T, n api.Notes, signed []int, machine int, force, let
 func TestWithoutNotes(t *testing.T) {
 	rnd := rand.New(rand.NewSource(33))
 	for range 200 {
-		n := someNotes(rnd)
+		n := trial.SomeNotes(rnd)
 		for i := range n.Notes {
 			n.Notes[i].Signed = api.KnownNo
 		}
 		for _, n := range []api.Notes{n, {Register: n.Register}} {
-			for _, m := range machinesOf(n) {
+			for _, m := range trial.MachinesOf(n) {
 				letters, e := note.Letters(n, nil, m)
-				if slices.Max(letters) != 1 || len(letters) != len(drawingsOf(n)) || e != api.OK {
+				if slices.Max(letters) != 1 || len(letters) != len(trial.DrawingsOf(n)) || e != api.OK {
 					t.Fatal(n, m, letters, e)
 				}
 			}
-			for _, d := range drawingsOf(n) {
+			for _, d := range trial.DrawingsOf(n) {
 				if l, e := note.Stretches(n, nil, d); !slices.Equal(l, []api.Stretch{{From: 1, To: 999, Letter: 1}}) || e != api.OK {
 					t.Fatal(n, d, l, e)
 				}
@@ -203,9 +203,9 @@ func TestStretches(t *testing.T) {
 	rnd := rand.New(rand.NewSource(34))
 	many := 0
 	for range 60 {
-		n := someNotes(rnd)
-		signed := someTruth(rnd, n)
-		for _, d := range drawingsOf(n) {
+		n := trial.SomeNotes(rnd)
+		signed := trial.SomeTruth(rnd, n)
+		for _, d := range trial.DrawingsOf(n) {
 			var want []api.Stretch
 			first := map[int]int{}
 			for m := 1; m <= api.MaxMachine; m++ {
@@ -246,22 +246,22 @@ func TestAsIfNotSigned(t *testing.T) {
 	rnd := rand.New(rand.NewSource(35))
 	cancelled, wholly := 0, 0
 	for range 1500 {
-		n := someNotes(rnd)
-		signed := someTruth(rnd, n)
+		n := trial.SomeNotes(rnd)
+		signed := trial.SomeTruth(rnd, n)
 		is := isSigned(n, signed)
 		for i, x := range n.Notes {
 			at := slices.IndexFunc(n.Notes, func(y api.Note) bool { return y.Number == x.Cancels })
 			if x.Cancels == 0 || !is[x.Number] || !is[x.Cancels] {
 				continue
 			}
-			without, alone := clone(n), clone(n)
+			without, alone := trial.CloneNotes(n), trial.CloneNotes(n)
 			without.Notes[at].Signed = api.KnownNo
 			alone.Notes[i].Cancels = 0
 			if x.Drawing == 0 {
 				alone.Notes[i].Signed, alone.Notes[i].Cancels = api.KnownNo, x.Cancels
 			}
 			whole := n.Notes[at].From >= x.From && n.Notes[at].To <= x.To
-			for _, m := range machinesOf(n) {
+			for _, m := range trial.MachinesOf(n) {
 				letters, e := note.Letters(n, signed, m)
 				other := alone
 				if forceOf(n.Notes, is, m)[i] {
@@ -287,13 +287,13 @@ func TestAsIfNotSigned(t *testing.T) {
 
 // trimmed returns a truth without the notes that are not open.
 func trimmed(n api.Notes, signed []int) []int {
-	return slices.DeleteFunc(slices.Clone(signed), func(number int) bool { return !slices.Contains(openOf(n), number) })
+	return slices.DeleteFunc(slices.Clone(signed), func(number int) bool { return !slices.Contains(trial.OpenOf(n), number) })
 }
 
 // sameLetters checks that without a note that is cancelled for all of its machines all letters of all of them are the same.
 func sameLetters(t *testing.T, n, without api.Notes, signed []int) {
 	t.Helper()
-	for _, d := range drawingsOf(n) {
+	for _, d := range trial.DrawingsOf(n) {
 		l, e := note.Stretches(n, signed, d)
 		k, f := note.Stretches(without, trimmed(without, signed), d)
 		if !slices.Equal(l, k) || e != api.OK || f != api.OK {
@@ -307,13 +307,13 @@ func TestTreesCanBeMade(t *testing.T) {
 	rnd := rand.New(rand.NewSource(36))
 	others, same := 0, 0
 	for range 300 {
-		n := someNotes(rnd)
-		signed := someTruth(rnd, n)
-		machines := machinesOf(n)
+		n := trial.SomeNotes(rnd)
+		signed := trial.SomeTruth(rnd, n)
+		machines := trial.MachinesOf(n)
 		a, b := machines[rnd.Intn(len(machines))], machines[rnd.Intn(len(machines))]
 		x, _ := note.Letters(n, signed, a)
 		y, _ := note.Letters(n, signed, b)
-		for _, d := range drawingsOf(n) {
+		for _, d := range trial.DrawingsOf(n) {
 			parts, e := sheet.Explode(n.Register, x, d)
 			again, f := sheet.Explode(n.Register, y, d)
 			tree, g := sheet.Tree(n.Register, x, d)

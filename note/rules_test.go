@@ -2,9 +2,7 @@ package note_test
 
 import (
 	"fmt"
-	"maps"
 	"math/rand"
-	"slices"
 	"testing"
 
 	"blueline/api"
@@ -17,15 +15,10 @@ func calls() []func() string {
 	var l []func() string
 	all := []arguments{{nil, 30, 2, 9, 102}, {[]int{102}, 10, 2, 15, 5}, {[]int{2, 5}, 7, 3, 500, 2}, {[]int{101}, 0, 0, 0, 0}}
 	for _, of := range []map[string]api.Notes{valid(), wrongNotes(), wrongRegisters()} {
-		for _, name := range slices.Sorted(maps.Keys(of)) {
-			n := of[name]
-			l = append(l, func() string { return fmt.Sprint(note.Check(n)) })
-			for _, f := range functions() {
-				for _, a := range all {
-					l = append(l, func() string { return fmt.Sprint(f.call(n, a)) })
-				}
-			}
+		for _, n := range of {
+			l = append(l, func() string { return note.Check(n).Error() })
 		}
+		l = append(l, trial.Calls(functions(), of, all)...)
 	}
 	return l
 }
@@ -62,33 +55,24 @@ func TestChangedSince(t *testing.T) {
 	}
 }
 
-// roomy returns notes all of whose lists have memory behind their ends.
-func roomy(n api.Notes, number int) api.Notes {
-	return api.Notes{Register: trial.RoomyRegister(n.Register, number), Notes: trial.Roomy(n.Notes, as(api.KnownOpen, gives(number, number, number, number, 1, 999)))}
-}
-
 // allOf is a text of notes, and of a truth, with what is behind the ends of their lists.
 func allOf(n api.Notes, signed []int) string {
-	s := fmt.Sprint(n.Notes[:cap(n.Notes)], signed[:cap(signed)])
-	for _, x := range n.Register.Issues[:cap(n.Register.Issues)] {
-		s += fmt.Sprint(x.Drawing, x.Letter, x.Kind, len(x.Items), x.Items[:cap(x.Items)], len(x.Dims), x.Dims[:cap(x.Dims)], "; ")
-	}
-	return s
+	return fmt.Sprint(n, signed, trial.Whole(n), trial.WholeList(signed))
 }
 
 // R3: nothing is written to arguments, nor behind their ends, and what is there does not matter.
 func TestArgumentsAreNotWritten(t *testing.T) {
 	rnd := rand.New(rand.NewSource(42))
 	for range 30 {
-		n := someNotes(rnd)
-		truth := someTruth(rnd, n)
-		for _, number := range append([]int{0, 30, 102}, openOf(n)...) {
-			other, signed := roomy(n, number), trial.Roomy(truth, number)
+		n := trial.SomeNotes(rnd)
+		truth := trial.SomeTruth(rnd, n)
+		for _, number := range append([]int{0, 30, 102}, trial.OpenOf(n)...) {
+			other, signed := trial.RoomyNotes(n, number), trial.Roomy(truth, number)
 			before := allOf(other, signed)
-			for _, d := range drawingsOf(n) {
+			for _, d := range trial.DrawingsOf(n) {
 				for _, f := range functions() {
-					s, e := f.call(n, arguments{truth, d, 2, 5, number})
-					if again, f := f.call(other, arguments{signed, d, 2, 5, number}); s != again || e != f {
+					s, e := f.Call(n, arguments{truth, d, 2, 5, number})
+					if again, f := f.Call(other, arguments{signed, d, 2, 5, number}); s != again || e != f {
 						t.Fatal(n, truth, d, number, s, e, again, f)
 					}
 				}
@@ -103,7 +87,7 @@ func TestArgumentsAreNotWritten(t *testing.T) {
 // scribbleNotes writes over all lists of notes, from the last one on; before, it checks that none was written over with another one.
 func scribbleNotes(t *testing.T, n, want api.Notes) {
 	t.Helper()
-	trial.Scribble(n.Notes, as(9, gives(-1, -1, -1, -1, -1, -1)))
+	trial.Scribble(n.Notes, trial.As(9, trial.Gives(-1, -1, -1, -1, -1, -1)))
 	l := n.Register.Issues
 	for i := len(l) - 1; i >= 0; i-- {
 		if fmt.Sprint(l[i]) != fmt.Sprint(want.Register.Issues[i]) {
@@ -119,16 +103,16 @@ func scribbleNotes(t *testing.T, n, want api.Notes) {
 func TestResultsAreNew(t *testing.T) {
 	rnd := rand.New(rand.NewSource(43))
 	for range 200 {
-		n := roomy(someNotes(rnd), 3)
-		signed := trial.Roomy(someTruth(rnd, n), 3)
+		n := trial.RoomyNotes(trial.SomeNotes(rnd), 3)
+		signed := trial.Roomy(trial.SomeTruth(rnd, n), 3)
 		before := allOf(n, signed)
-		a := arguments{signed, drawingsOf(n)[0], 1, 4, 0}
-		if l := openOf(n); len(l) > 0 {
+		a := arguments{signed, trial.DrawingsOf(n)[0], 1, 4, 0}
+		if l := trial.OpenOf(n); len(l) > 0 {
 			a.number = l[0]
 		}
 		var texts []string
 		for _, f := range functions() {
-			s, _ := f.call(n, a)
+			s, _ := f.Call(n, a)
 			texts = append(texts, s)
 		}
 		for _, call := range []func() ([]int, api.Errno){
@@ -147,14 +131,14 @@ func TestResultsAreNew(t *testing.T) {
 		pairs, _ := note.Clash(n, signed)
 		trial.Scribble(pairs, [2]int{-1, -1})
 		if settled, e := note.Settle(n, a.number, true); e == api.OK {
-			scribbleNotes(t, settled, clone(n))
+			scribbleNotes(t, settled, trial.CloneNotes(n))
 		}
 		if after := allOf(n, signed); after != before {
 			t.Fatal(before, "is", after)
 		}
 		for i, f := range functions() {
-			if s, _ := f.call(n, a); s != texts[i] {
-				t.Fatal(f.name, s, "and before", texts[i])
+			if s, _ := f.Call(n, a); s != texts[i] {
+				t.Fatal(f.Name, s, "and before", texts[i])
 			}
 		}
 	}
@@ -163,19 +147,19 @@ func TestResultsAreNew(t *testing.T) {
 // R4: a nil list and an empty one are the same, wherever they are.
 func TestNilAndEmpty(t *testing.T) {
 	for name, n := range valid() {
-		empty := clone(n)
+		empty := trial.CloneNotes(n)
 		empty.Notes = append([]api.Note{}, n.Notes...)
 		for i, x := range empty.Register.Issues {
 			empty.Register.Issues[i].Items = append([]api.Item{}, x.Items...)
 			empty.Register.Issues[i].Dims = append([]api.Dim{}, x.Dims...)
 		}
-		for _, d := range drawingsOf(n) {
+		for _, d := range trial.DrawingsOf(n) {
 			for _, f := range functions() {
 				a := arguments{nil, d, 2, 9, 102}
-				s, e := f.call(n, a)
+				s, e := f.Call(n, a)
 				a.signed = []int{}
-				if again, g := f.call(empty, a); s != again || e != g {
-					t.Error(name, f.name, d, s, e, again, g)
+				if again, g := f.Call(empty, a); s != again || e != g {
+					t.Error(name, f.Name, d, s, e, again, g)
 				}
 			}
 		}
@@ -189,15 +173,15 @@ func TestAnyValue(t *testing.T) {
 		if k <= api.KnownYes {
 			want = api.OK
 		}
-		if e := note.Check(noted(as(uint8(k), gives(1, 0, 30, 2, 1, 9)))); e != want {
+		if e := note.Check(trial.Noted(trial.As(uint8(k), trial.Gives(1, 0, 30, 2, 1, 9)))); e != want {
 			t.Error("signed", k, e)
 		}
 		if want = api.ErrNotes; k <= api.WayBoth {
 			want = api.OK
 		}
-		x := gives(1, 0, 30, 2, 1, 9)
+		x := trial.Gives(1, 0, 30, 2, 1, 9)
 		x.Ways = uint8(k)
-		if e := note.Check(noted(x)); e != want {
+		if e := note.Check(trial.Noted(x)); e != want {
 			t.Error("ways", k, e)
 		}
 	}
@@ -208,24 +192,24 @@ func TestEnds(t *testing.T) {
 	const many = 300000
 	var long []api.Note
 	for i := range many {
-		long = append(long, gives(1+i, 0, 30, 2, 1, 9))
+		long = append(long, trial.Gives(1+i, 0, 30, 2, 1, 9))
 	}
-	for name, n := range map[string]api.Notes{"zeros": noted(make([]api.Note, many)...), "many": noted(long...)} {
+	for name, n := range map[string]api.Notes{"zeros": trial.Noted(make([]api.Note, many)...), "many": trial.Noted(long...)} {
 		for _, f := range functions() {
-			if s, e := f.call(n, arguments{make([]int, many), 30, 2, 9, 1}); e != api.ErrNotes || !isNothing(s) {
-				t.Error(name, f.name, e)
+			if s, e := f.Call(n, arguments{make([]int, many), 30, 2, 9, 1}); e != api.ErrNotes || !isNothing(s) {
+				t.Error(name, f.Name, e)
 			}
 		}
 	}
 	for _, f := range functions() {
-		if s, e := f.call(api.Notes{Register: api.Register{Issues: make([]api.Issue, many)}, Notes: long}, arguments{}); e != api.ErrRegister || !isNothing(s) {
-			t.Error(f.name, e)
+		if s, e := f.Call(api.Notes{Register: api.Register{Issues: make([]api.Issue, many)}, Notes: long}, arguments{}); e != api.ErrRegister || !isNothing(s) {
+			t.Error(f.Name, e)
 		}
 	}
-	for _, signed := range truthsOf(thread()) {
+	for _, signed := range trial.TruthsOf(thread()) {
 		for _, f := range functions() {
-			if _, e := f.call(thread(), arguments{signed, 7, 1, 9, 5}); e != api.OK {
-				t.Error(f.name, signed, e)
+			if _, e := f.Call(thread(), arguments{signed, 7, 1, 9, 5}); e != api.OK {
+				t.Error(f.Name, signed, e)
 			}
 		}
 	}

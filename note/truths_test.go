@@ -57,7 +57,7 @@ func TestSettleExamples(t *testing.T) {
 	not := changed(func(l []api.Note) { l[0].Signed = api.KnownNo })
 	for _, number := range append(trial.Far(), 101, 103, 104, 105, 10, 30, 1, 2) {
 		for _, signed := range []bool{true, false} {
-			for _, n := range []api.Notes{example(), not, noted()} {
+			for _, n := range []api.Notes{example(), not, trial.Noted()} {
 				if n, e := note.Settle(n, number, signed); len(n.Notes) > 0 || len(n.Register.Issues) > 0 || e != api.ErrNone {
 					t.Error(number, n, e)
 				}
@@ -73,20 +73,20 @@ func TestMattersTogether(t *testing.T) {
 		list []api.Note
 		want []int
 	}{
-		"either one":             {[]api.Note{as(k, gives(2, 0, 30, 2, 1, 9)), as(k, gives(1, 1, 30, 2, 1, 9))}, []int{1, 2}},
-		"hidden by a signed one": {[]api.Note{as(k, gives(1, 0, 30, 2, 1, 9)), gives(2, 0, 30, 2, 1, 9)}, nil},
-		"hidden by an open one":  {[]api.Note{as(k, gives(1, 0, 30, 2, 1, 9)), as(k, gives(2, 0, 30, 1, 1, 9))}, []int{1, 2}},
-		"A alone":                {[]api.Note{as(k, gives(1, 0, 30, 1, 1, 9))}, nil},
-		"cancels what is":        {[]api.Note{gives(1, 0, 30, 2, 1, 9), as(k, cancels(2, 0, 1, 5, 5))}, []int{2}},
-		"cancels elsewhere":      {[]api.Note{gives(1, 0, 30, 2, 1, 9), as(k, cancels(2, 0, 1, 6, 9))}, nil},
-		"cancels what is not":    {[]api.Note{as(api.KnownNo, gives(1, 0, 30, 2, 1, 9)), as(k, cancels(2, 0, 1, 1, 9))}, nil},
-		"cancelled":              {[]api.Note{as(k, gives(1, 0, 30, 2, 1, 9)), cancels(2, 0, 1, 1, 9)}, nil},
-		"cancelled, perhaps":     {[]api.Note{as(k, gives(1, 0, 30, 2, 1, 9)), as(k, cancels(2, 0, 1, 1, 9))}, []int{1, 2}},
-		"far away":               {[]api.Note{as(k, gives(1, 0, 30, 2, 6, 9)), as(k, gives(2, 0, 30, 2, 1, 4))}, nil},
-		"not open":               {[]api.Note{gives(1, 0, 30, 2, 1, 9), as(api.KnownNo, gives(2, 0, 30, 1, 1, 9))}, nil},
-		"by days":                {[]api.Note{as(k, gives(7, 0, 10, 2, 1, 9)), as(k, gives(3, 1, 30, 2, 1, 9)), as(k, gives(5, 2, 30, 1, 1, 9))}, []int{3, 5, 7}},
+		"either one":             {[]api.Note{trial.As(k, trial.Gives(2, 0, 30, 2, 1, 9)), trial.As(k, trial.Gives(1, 1, 30, 2, 1, 9))}, []int{1, 2}},
+		"hidden by a signed one": {[]api.Note{trial.As(k, trial.Gives(1, 0, 30, 2, 1, 9)), trial.Gives(2, 0, 30, 2, 1, 9)}, nil},
+		"hidden by an open one":  {[]api.Note{trial.As(k, trial.Gives(1, 0, 30, 2, 1, 9)), trial.As(k, trial.Gives(2, 0, 30, 1, 1, 9))}, []int{1, 2}},
+		"A alone":                {[]api.Note{trial.As(k, trial.Gives(1, 0, 30, 1, 1, 9))}, nil},
+		"cancels what is":        {[]api.Note{trial.Gives(1, 0, 30, 2, 1, 9), trial.As(k, trial.Cancels(2, 0, 1, 5, 5))}, []int{2}},
+		"cancels elsewhere":      {[]api.Note{trial.Gives(1, 0, 30, 2, 1, 9), trial.As(k, trial.Cancels(2, 0, 1, 6, 9))}, nil},
+		"cancels what is not":    {[]api.Note{trial.As(api.KnownNo, trial.Gives(1, 0, 30, 2, 1, 9)), trial.As(k, trial.Cancels(2, 0, 1, 1, 9))}, nil},
+		"cancelled":              {[]api.Note{trial.As(k, trial.Gives(1, 0, 30, 2, 1, 9)), trial.Cancels(2, 0, 1, 1, 9)}, nil},
+		"cancelled, perhaps":     {[]api.Note{trial.As(k, trial.Gives(1, 0, 30, 2, 1, 9)), trial.As(k, trial.Cancels(2, 0, 1, 1, 9))}, []int{1, 2}},
+		"far away":               {[]api.Note{trial.As(k, trial.Gives(1, 0, 30, 2, 6, 9)), trial.As(k, trial.Gives(2, 0, 30, 2, 1, 4))}, nil},
+		"not open":               {[]api.Note{trial.Gives(1, 0, 30, 2, 1, 9), trial.As(api.KnownNo, trial.Gives(2, 0, 30, 1, 1, 9))}, nil},
+		"by days":                {[]api.Note{trial.As(k, trial.Gives(7, 0, 10, 2, 1, 9)), trial.As(k, trial.Gives(3, 1, 30, 2, 1, 9)), trial.As(k, trial.Gives(5, 2, 30, 1, 1, 9))}, []int{3, 5, 7}},
 	} {
-		if l, e := note.Matters(noted(x.list...), 5); !slices.Equal(l, x.want) || e != api.OK {
+		if l, e := note.Matters(trial.Noted(x.list...), 5); !slices.Equal(l, x.want) || e != api.OK {
 			t.Error(name, l, e)
 		}
 	}
@@ -97,15 +97,15 @@ func TestPossible(t *testing.T) {
 	rnd := rand.New(rand.NewSource(37))
 	several, matter := 0, 0
 	for range 600 {
-		n := someNotes(rnd)
-		m := machinesOf(n)[rnd.Intn(len(machinesOf(n)))]
+		n := trial.SomeNotes(rnd)
+		m := trial.MachinesOf(n)[rnd.Intn(len(trial.MachinesOf(n)))]
 		sure, e := note.Sure(n, m)
 		if e != api.OK {
 			t.Fatal(n, m, e)
 		}
-		for i, d := range drawingsOf(n) {
+		for i, d := range trial.DrawingsOf(n) {
 			want := map[int]bool{}
-			for _, signed := range truthsOf(n) {
+			for _, signed := range trial.TruthsOf(n) {
 				letters, e := note.Letters(n, signed, m)
 				if e != api.OK || letters[i] != lettersOf(n, signed, m)[i] {
 					t.Fatal(n, signed, m, letters, e)
@@ -137,8 +137,8 @@ func TestPossible(t *testing.T) {
 // mattering returns the open notes that matter for a machine, by all pairs of truths.
 func mattering(n api.Notes, machine int) []int {
 	var l []int
-	for _, number := range openOf(n) {
-		for _, signed := range truthsOf(n) {
+	for _, number := range trial.OpenOf(n) {
+		for _, signed := range trial.TruthsOf(n) {
 			with := append(slices.Clone(signed), number)
 			slices.Sort(with)
 			if !slices.Contains(signed, number) && !slices.Contains(l, number) && !slices.Equal(lettersOf(n, signed, machine), lettersOf(n, with, machine)) {
@@ -153,7 +153,7 @@ func mattering(n api.Notes, machine int) []int {
 func possibleOf(t *testing.T, n api.Notes, machine int) string {
 	t.Helper()
 	s := ""
-	for _, d := range drawingsOf(n) {
+	for _, d := range trial.DrawingsOf(n) {
 		l, e := note.Possible(n, d, machine)
 		if e != api.OK {
 			t.Fatal(n, d, machine, e)
@@ -168,17 +168,17 @@ func TestSettle(t *testing.T) {
 	rnd := rand.New(rand.NewSource(38))
 	fewer, idle := 0, 0
 	for range 300 {
-		n := someNotes(rnd)
-		m := machinesOf(n)[rnd.Intn(len(machinesOf(n)))]
+		n := trial.SomeNotes(rnd)
+		m := trial.MachinesOf(n)[rnd.Intn(len(trial.MachinesOf(n)))]
 		matters, _ := note.Matters(n, m)
 		before := text(n)
-		for _, number := range openOf(n) {
+		for _, number := range trial.OpenOf(n) {
 			yes, e := note.Settle(n, number, true)
 			no, f := note.Settle(n, number, false)
 			at := slices.IndexFunc(n.Notes, func(x api.Note) bool { return x.Number == number })
-			want := clone(n)
+			want := trial.CloneNotes(n)
 			want.Notes[at].Signed = api.KnownYes
-			other := clone(n)
+			other := trial.CloneNotes(n)
 			other.Notes[at].Signed = api.KnownNo
 			if e != api.OK || f != api.OK || text(yes) != text(want) || text(no) != text(other) || text(n) != before {
 				t.Fatal(n, number, yes, no, e, f)
@@ -189,7 +189,7 @@ func TestSettle(t *testing.T) {
 					t.Fatal(n, number, m, all)
 				}
 			}
-			for _, d := range drawingsOf(n) {
+			for _, d := range trial.DrawingsOf(n) {
 				all, _ := note.Possible(n, d, m)
 				some, _ := note.Possible(yes, d, m)
 				others, _ := note.Possible(no, d, m)
@@ -213,11 +213,11 @@ func TestSettle(t *testing.T) {
 func TestAllSettled(t *testing.T) {
 	rnd := rand.New(rand.NewSource(39))
 	for range 100 {
-		n := someNotes(rnd)
-		for _, number := range openOf(n) {
+		n := trial.SomeNotes(rnd)
+		for _, number := range trial.OpenOf(n) {
 			n, _ = note.Settle(n, number, rnd.Intn(2) == 0)
 		}
-		for _, m := range machinesOf(n) {
+		for _, m := range trial.MachinesOf(n) {
 			letters, _ := note.Letters(n, nil, m)
 			if sure, e := note.Sure(n, m); !slices.Equal(sure, letters) || e != api.OK {
 				t.Fatal(n, m, sure, letters, e)

@@ -2,12 +2,14 @@ package trial_test
 
 import (
 	"fmt"
+	"math/rand"
 	"slices"
 	"strconv"
 	"sync/atomic"
 	"testing"
 
 	"blueline/api"
+	"blueline/note"
 	"blueline/sheet"
 	"blueline/trial"
 )
@@ -50,5 +52,92 @@ func TestRegisters(t *testing.T) {
 		if fmt.Sprint(r) != fmt.Sprint(trial.Example()) {
 			t.Error(r)
 		}
+	}
+}
+
+func TestNotes(t *testing.T) {
+	rnd := rand.New(rand.NewSource(1))
+	for range 300 {
+		n := trial.SomeNotes(rnd)
+		for _, other := range []api.Notes{n, trial.CloneNotes(n), trial.RoomyNotes(n, 3)} {
+			if note.Check(other) != api.OK || fmt.Sprint(other) != fmt.Sprint(n) {
+				t.Fatal(other, "is not", n)
+			}
+		}
+		truths := trial.TruthsOf(n)
+		if len(truths) != 1<<len(trial.OpenOf(n)) {
+			t.Fatal(n, truths)
+		}
+		for _, signed := range append(truths, trial.SomeTruth(rnd, n)) {
+			if _, e := note.Force(n, signed, 1); e != api.OK {
+				t.Fatal(n, signed, e)
+			}
+		}
+	}
+}
+
+func TestWhole(t *testing.T) {
+	n := trial.Noted(trial.UsingUp(trial.Gives(1, 2, 30, 2, 5, 6)), trial.Cancels(2, 3, 1, 6, 6))
+	roomy := trial.RoomyNotes(n, 7)
+	before := fmt.Sprint(trial.Whole(roomy))
+	for i, change := range []func(){
+		func() { roomy.Notes[:3][2].Day++ },
+		func() { roomy.Register.Issues[:9][8].Letter++ },
+		func() { roomy.Register.Issues[0].Items[:3][2].Count++ },
+		func() { roomy.Register.Issues[3].Dims[:2][1].Lower++ },
+	} {
+		change()
+		after := fmt.Sprint(trial.Whole(roomy))
+		if after == before || fmt.Sprint(roomy) != fmt.Sprint(n) {
+			t.Error(i, after)
+		}
+		before = after
+	}
+}
+
+// functionsOf returns functions of a number that return an error: the number itself, or that of their argument, if they take one.
+func functionsOf(early bool) []trial.Function[int, [2]int] {
+	call := func(i int) func(n int, a [2]int) (string, api.Errno) {
+		return func(n int, a [2]int) (string, api.Errno) {
+			if e := max(n, 0); e > 0 && !early {
+				return "", api.Errno(e)
+			}
+			if a[i] > 0 {
+				return "", api.Errno(a[i])
+			}
+			return "fine", api.Errno(n)
+		}
+	}
+	return []trial.Function[int, [2]int]{{Name: "F", Takes: "first", Call: call(0)}, {Name: "G", Takes: "second", Call: call(1)}}
+}
+
+func TestFunctions(t *testing.T) {
+	isNothing := func(text string) bool { return text == "" }
+	first := func(n int) api.Errno { return api.Errno(n) }
+	things := map[string]int{"two": 2, "four": 4}
+	arguments := [][2]int{{}, {6, 0}, {0, 8}}
+	if l := trial.Calls(functionsOf(false), things, arguments); len(l) != 12 || l[0]() != " error 4" || l[11]() != " error 2" {
+		t.Error(len(l))
+	}
+	if l := trial.Early(functionsOf(false), things, arguments, first, isNothing); len(l) > 0 {
+		t.Error(l)
+	}
+	if l := trial.Early(functionsOf(true), things, arguments, first, isNothing); len(l) != 12 {
+		t.Error(l)
+	}
+	if l := trial.Early(functionsOf(false), map[string]int{"none": 0}, arguments, first, isNothing); len(l) != 6 {
+		t.Error(l)
+	}
+	wrongs := []trial.Wrong[[2]int]{{Word: "first", Make: func(a *[2]int) { a[0] = 6 }, Error: 6}, {Word: "second", Make: func(a *[2]int) { a[1] = 8 }, Error: 8}}
+	if l := trial.Disordered(functionsOf(false), 0, [2]int{}, wrongs, isNothing); len(l) > 0 {
+		t.Error(l)
+	}
+	wrongs[1].Error = 7
+	if l := trial.Disordered(functionsOf(false), 0, [2]int{}, wrongs, isNothing); len(l) != 2 {
+		t.Error(l)
+	}
+	wrongs[1] = trial.Wrong[[2]int]{Word: "first", Make: func(a *[2]int) { a[0] = 8 }, Error: 8}
+	if l := trial.Disordered(functionsOf(false), 0, [2]int{}, wrongs, isNothing); !slices.Equal(l, []string{"F, first, first:  error 8"}) {
+		t.Error(l)
 	}
 }
