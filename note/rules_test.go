@@ -147,12 +147,7 @@ func TestResultsAreNew(t *testing.T) {
 // R4: a nil list and an empty one are the same, wherever they are.
 func TestNilAndEmpty(t *testing.T) {
 	for name, n := range valid() {
-		empty := trial.CloneNotes(n)
-		empty.Notes = append([]api.Note{}, n.Notes...)
-		for i, x := range empty.Register.Issues {
-			empty.Register.Issues[i].Items = append([]api.Item{}, x.Items...)
-			empty.Register.Issues[i].Dims = append([]api.Dim{}, x.Dims...)
-		}
+		empty := trial.EmptyNotes(n)
 		for _, d := range trial.DrawingsOf(n) {
 			for _, f := range functions() {
 				a := arguments{nil, d, 2, 9, 102}

@@ -163,12 +163,8 @@ func TestResultsAreNew(t *testing.T) {
 func TestNilAndEmpty(t *testing.T) {
 	for name, s := range valid() {
 		empty := clone(s)
-		empty.Notes.Notes = append([]api.Note{}, s.Notes.Notes...)
+		empty.Notes = trial.EmptyNotes(s.Notes)
 		empty.Machines = append([]int{}, s.Machines...)
-		for i, x := range empty.Notes.Register.Issues {
-			empty.Notes.Register.Issues[i].Items = append([]api.Item{}, x.Items...)
-			empty.Notes.Register.Issues[i].Dims = append([]api.Dim{}, x.Dims...)
-		}
 		for _, f := range functions() {
 			text, e := f.Call(s, arguments{nil, 0, 1, nil})
 			if again, g := f.Call(empty, arguments{[]int{}, 0, 1, [][]int{}}); text != again || e != g {

@@ -6,6 +6,7 @@ import (
 	"slices"
 
 	"blueline/api"
+	"blueline/every"
 	"blueline/note"
 	"blueline/sheet"
 )
@@ -103,7 +104,7 @@ func (w store) proof() ([]int, int) {
 	for l := range len(w.Piles) {
 		letters = append(letters, l+1)
 	}
-	return firstOfBest(parts(letters), w.surplus)
+	return firstOfBest(every.Part(letters), w.surplus)
 }
 
 // scrap returns how many pieces are scrapped at least: just so many have no place, whoever gets the others (P4.6).
@@ -116,35 +117,6 @@ func (w store) scrap() int {
 func (w store) scrapIn(signed []int) int {
 	in, _ := w.in(signed)
 	return in.scrap()
-}
-
-// truths yields all truths, as lists of Numbers.
-func (w store) truths() iter.Seq[[]int] {
-	var open []int
-	for _, x := range w.Notes.Notes {
-		if x.Signed == api.KnownOpen {
-			open = append(open, x.Number)
-		}
-	}
-	slices.Sort(open)
-	return parts(open)
-}
-
-// parts yields all lists of some things of a list, in its order.
-func parts(l []int) iter.Seq[[]int] {
-	return func(yield func([]int) bool) {
-		for bits := range 1 << len(l) {
-			var part []int
-			for i, x := range l {
-				if bits>>i&1 == 1 {
-					part = append(part, x)
-				}
-			}
-			if !yield(part) {
-				return
-			}
-		}
-	}
 }
 
 // firstOfBest returns the list that is worth most, and how much: of several ones the shortest, of these the first one (the first thing that differs is less).

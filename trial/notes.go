@@ -54,6 +54,17 @@ func RoomyNotes(n api.Notes, number int) api.Notes {
 	return api.Notes{Register: RoomyRegister(n.Register, number), Notes: Roomy(n.Notes, behind)}
 }
 
+// EmptyNotes returns notes none of whose lists is nil.
+func EmptyNotes(n api.Notes) api.Notes {
+	n = CloneNotes(n)
+	n.Notes = append([]api.Note{}, n.Notes...)
+	for i, x := range n.Register.Issues {
+		n.Register.Issues[i].Items = append([]api.Item{}, x.Items...)
+		n.Register.Issues[i].Dims = append([]api.Dim{}, x.Dims...)
+	}
+	return n
+}
+
 // Whole returns notes with all that is in the memory behind the ends of their lists.
 func Whole(n api.Notes) api.Notes {
 	n = api.Notes{Register: api.Register{Issues: WholeList(n.Register.Issues)}, Notes: WholeList(n.Notes)}

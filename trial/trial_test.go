@@ -59,7 +59,7 @@ func TestNotes(t *testing.T) {
 	rnd := rand.New(rand.NewSource(1))
 	for range 300 {
 		n := trial.SomeNotes(rnd)
-		for _, other := range []api.Notes{n, trial.CloneNotes(n), trial.RoomyNotes(n, 3)} {
+		for _, other := range []api.Notes{n, trial.CloneNotes(n), trial.RoomyNotes(n, 3), trial.EmptyNotes(n)} {
 			if note.Check(other) != api.OK || fmt.Sprint(other) != fmt.Sprint(n) {
 				t.Fatal(other, "is not", n)
 			}
@@ -73,6 +73,13 @@ func TestNotes(t *testing.T) {
 				t.Fatal(n, signed, e)
 			}
 		}
+	}
+}
+
+func TestEmptyNotes(t *testing.T) {
+	n := trial.EmptyNotes(api.Notes{Register: trial.Example()})
+	if n.Notes == nil || slices.ContainsFunc(n.Register.Issues, func(x api.Issue) bool { return x.Items == nil || x.Dims == nil }) {
+		t.Error(n)
 	}
 }
 
