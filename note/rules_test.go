@@ -3,6 +3,7 @@ package note_test
 import (
 	"fmt"
 	"math/rand"
+	"slices"
 	"testing"
 
 	"blueline/api"
@@ -84,19 +85,13 @@ func TestArgumentsAreNotWritten(t *testing.T) {
 	}
 }
 
-// scribbleNotes writes over all lists of notes, from the last one on; before, it checks that none was written over with another one.
+// scribbleNotes writes over all lists of notes, none of which may share memory with another one.
 func scribbleNotes(t *testing.T, n, want api.Notes) {
 	t.Helper()
 	trial.Scribble(n.Notes, trial.As(9, trial.Gives(-1, -1, -1, -1, -1, -1)))
-	l := n.Register.Issues
-	for i := len(l) - 1; i >= 0; i-- {
-		if fmt.Sprint(l[i]) != fmt.Sprint(want.Register.Issues[i]) {
-			t.Error("two lists of a result share memory:", l[i], want.Register.Issues[i])
-		}
-		trial.Scribble(l[i].Items, api.Item{Drawing: -1, Count: -1})
-		trial.Scribble(l[i].Dims, trial.Dim(-1, -1, -1))
+	if shared := trial.ScribbleRegister(n.Register, want.Register); len(shared) > 0 {
+		t.Error("two lists of a result share memory:", shared)
 	}
-	trial.Scribble(l, trial.Part(-1, -1))
 }
 
 // R3: what is written to a result is not written to arguments, nor to other results.
@@ -110,11 +105,7 @@ func TestResultsAreNew(t *testing.T) {
 		if l := trial.OpenOf(n); len(l) > 0 {
 			a.number = l[0]
 		}
-		var texts []string
-		for _, f := range functions() {
-			s, _ := f.Call(n, a)
-			texts = append(texts, s)
-		}
+		texts := trial.Texts(functions(), n, a)
 		for _, call := range []func() ([]int, api.Errno){
 			func() ([]int, api.Errno) { return note.Force(n, signed, 4) },
 			func() ([]int, api.Errno) { return note.Letters(n, signed, 4) },
@@ -136,10 +127,8 @@ func TestResultsAreNew(t *testing.T) {
 		if after := allOf(n, signed); after != before {
 			t.Fatal(before, "is", after)
 		}
-		for i, f := range functions() {
-			if s, _ := f.Call(n, a); s != texts[i] {
-				t.Fatal(f.Name, s, "and before", texts[i])
-			}
+		if again := trial.Texts(functions(), n, a); !slices.Equal(again, texts) {
+			t.Fatal(again, "and before", texts)
 		}
 	}
 }

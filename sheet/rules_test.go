@@ -117,17 +117,12 @@ func TestArgumentsAreNotWritten(t *testing.T) {
 	}
 }
 
-// scribbleIssues writes over all lists of issues, from the last one on; before, it checks that none was written over with another one.
-func scribbleIssues(t *testing.T, l []api.Issue, want []api.Issue) {
+// scribble writes over all lists of a register, none of which may share memory with another one.
+func scribble(t *testing.T, r, want api.Register) {
 	t.Helper()
-	for i := len(l) - 1; i >= 0; i-- {
-		if fmt.Sprint(l[i]) != fmt.Sprint(want[i]) {
-			t.Error("two lists of a result share memory:", l[i], want[i])
-		}
-		trial.Scribble(l[i].Items, api.Item{Drawing: -1, Count: -1})
-		trial.Scribble(l[i].Dims, dim(-1, -1, -1))
+	if shared := trial.ScribbleRegister(r, want); len(shared) > 0 {
+		t.Error("two lists of a result share memory:", shared)
 	}
-	trial.Scribble(l, part(-1, -1))
 }
 
 // R3: what is written to a result is not written to arguments, nor to other results.
@@ -145,7 +140,7 @@ func TestResultsAreNew(t *testing.T) {
 			l, _ := sheet.Drawings(r)
 			trial.Scribble(l, -1)
 			issue, _ := sheet.At(r, api.Ref{Drawing: x.Drawing, Letter: x.Letter})
-			scribbleIssues(t, []api.Issue{issue}, []api.Issue{x})
+			scribble(t, register(issue), register(x))
 			parts, _ := sheet.Explode(r, letters, x.Drawing)
 			trial.Scribble(parts, api.Item{Drawing: -1, Count: -1})
 			tree, _ := sheet.Tree(r, letters, x.Drawing)
@@ -180,12 +175,12 @@ func TestMergedIsNew(t *testing.T) {
 		if e != api.OK {
 			t.Fatal(a, b, e)
 		}
-		scribbleIssues(t, merged.Issues, clone(merged).Issues)
+		scribble(t, merged, clone(merged))
 		if after := allOf(a) + allOf(b); after != before {
 			t.Fatal(before, "is", after)
 		}
 		c, e := sheet.Merge(a, a)
-		scribbleIssues(t, c.Issues, a.Issues)
+		scribble(t, c, a)
 		if after := allOf(a) + allOf(b); e != api.OK || after != before {
 			t.Fatal(e, before, "is", after)
 		}

@@ -122,11 +122,7 @@ func TestResultsAreNew(t *testing.T) {
 		a := someArguments(t, rnd, s)
 		a.signed, a.plan = trial.Roomy(a.signed, 3), roomyPlan(a.plan, 3)
 		before := allOf(s, a)
-		var texts []string
-		for _, f := range functions() {
-			text, _ := f.Call(s, a)
-			texts = append(texts, text)
-		}
+		texts := trial.Texts(functions(), s, a)
 		for _, call := range []func() ([]int, api.Errno){
 			func() ([]int, api.Errno) { return stock.Needs(s, a.signed) },
 			func() ([]int, api.Errno) { return stock.May(s, a.signed, a.machine) },
@@ -151,10 +147,8 @@ func TestResultsAreNew(t *testing.T) {
 		if after := allOf(s, a); after != before {
 			t.Fatal(before, "is", after)
 		}
-		for i, f := range functions() {
-			if text, _ := f.Call(s, a); text != texts[i] {
-				t.Fatal(f.Name, text, "and before", texts[i])
-			}
+		if again := trial.Texts(functions(), s, a); !slices.Equal(again, texts) {
+			t.Fatal(again, "and before", texts)
 		}
 	}
 }

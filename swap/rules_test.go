@@ -148,19 +148,13 @@ func TestResultsAreNew(t *testing.T) {
 		a := someArguments(rnd, s)
 		a.signed = trial.Roomy(a.signed, 3)
 		before := allOf(s, a)
-		var texts []string
-		for _, f := range functions() {
-			text, _ := f.Call(s, a)
-			texts = append(texts, text)
-		}
+		texts := trial.Texts(functions(), s, a)
 		scribbleResults(t, s, a)
 		if after := allOf(s, a); after != before {
 			t.Fatal(before, "is", after)
 		}
-		for i, f := range functions() {
-			if text, _ := f.Call(s, a); text != texts[i] {
-				t.Fatal(f.Name, text, "and before", texts[i])
-			}
+		if again := trial.Texts(functions(), s, a); !slices.Equal(again, texts) {
+			t.Fatal(again, "and before", texts)
 		}
 	}
 }

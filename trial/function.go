@@ -38,6 +38,16 @@ func Calls[S, A any](functions []Function[S, A], things map[string]S, arguments 
 	return l
 }
 
+// Texts returns a text of what each function returns for a thing and arguments.
+func Texts[S, A any](functions []Function[S, A], thing S, a A) []string {
+	var l []string
+	for _, f := range functions {
+		text, e := f.Call(thing, a)
+		l = append(l, f.Name+": "+text+" "+e.Error())
+	}
+	return l
+}
+
 // Early returns the names of all functions that return another error than the one that comes first for a thing, or something else with it, whatever the arguments are (R1, R2).
 func Early[S, A any](functions []Function[S, A], things map[string]S, arguments []A, first func(S) api.Errno, isNothing func(text string) bool) []string {
 	var l []string

@@ -87,3 +87,18 @@ func Scribble[T any](l []T, with T) {
 		l[i] = with
 	}
 }
+
+// ScribbleRegister writes over all lists of a register, from the last one on, and returns the issues of which a list had been written over with another one.
+func ScribbleRegister(r, want api.Register) []api.Issue {
+	var shared []api.Issue
+	for i := len(r.Issues) - 1; i >= 0; i-- {
+		x, y := r.Issues[i], want.Issues[i]
+		if !slices.Equal(x.Items, y.Items) || !slices.Equal(x.Dims, y.Dims) {
+			shared = append(shared, y)
+		}
+		Scribble(x.Items, api.Item{Drawing: -1, Count: -1})
+		Scribble(x.Dims, Dim(-1, -1, -1))
+	}
+	Scribble(r.Issues, Part(-1, -1))
+	return shared
+}

@@ -42,6 +42,23 @@ func TestRoomy(t *testing.T) {
 	}
 }
 
+func TestScribbleRegister(t *testing.T) {
+	r := trial.Clone(trial.Example())
+	if l := trial.ScribbleRegister(r, trial.Example()); len(l) > 0 {
+		t.Error(l)
+	}
+	if slices.ContainsFunc(r.Issues, func(x api.Issue) bool { return x.Drawing != -1 }) {
+		t.Error(r)
+	}
+	r = trial.Clone(trial.Example())
+	dims, items := r.Issues[3].Dims, r.Issues[0].Items
+	r.Issues[5].Dims, r.Issues[2].Items = dims, items
+	want := trial.Clone(r)
+	if l := trial.ScribbleRegister(r, want); len(l) != 2 || l[0].Letter != 1 || l[0].Drawing != 30 || l[1].Drawing != 10 || dims[0].Lower != -1 || items[0].Count != -1 {
+		t.Error(l, dims, items)
+	}
+}
+
 func TestRegisters(t *testing.T) {
 	r := trial.Example()
 	for _, other := range []api.Register{trial.Clone(r), trial.RoomyRegister(r, 30)} {
@@ -125,6 +142,9 @@ func TestFunctions(t *testing.T) {
 	arguments := [][2]int{{}, {6, 0}, {0, 8}}
 	if l := trial.Calls(functionsOf(false), things, arguments); len(l) != 12 || l[0]() != " error 4" || l[11]() != " error 2" {
 		t.Error(len(l))
+	}
+	if l := trial.Texts(functionsOf(false), 0, [2]int{6, 0}); !slices.Equal(l, []string{"F:  error 6", "G: fine error 0"}) {
+		t.Error(l)
 	}
 	if l := trial.Early(functionsOf(false), things, arguments, first, isNothing); len(l) > 0 {
 		t.Error(l)
