@@ -1,7 +1,8 @@
-// Package every yields all that there is of something, for layers that look at each one.
+// Package every yields all that there is of something, for layers that look at each one, and finds the first of the best.
 package every
 
 import (
+	"cmp"
 	"iter"
 	"slices"
 
@@ -35,4 +36,17 @@ func Truth(n api.Notes) iter.Seq[[]int] {
 	}
 	slices.Sort(open)
 	return Part(open)
+}
+
+// Best returns the list that is worth most, and how much: of several ones the shortest, of these the first one (the first thing that differs is less).
+func Best[T cmp.Ordered](lists iter.Seq[[]T], worth func([]T) int) ([]T, int) {
+	var best []T
+	most, found := 0, false
+	for l := range lists {
+		n := worth(l)
+		if !found || cmp.Or(cmp.Compare(most, n), cmp.Compare(len(l), len(best)), slices.Compare(l, best)) < 0 {
+			best, most, found = l, n, true
+		}
+	}
+	return best, most
 }

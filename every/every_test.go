@@ -58,3 +58,33 @@ func TestTruth(t *testing.T) {
 		t.Error(l)
 	}
 }
+
+func TestBest(t *testing.T) {
+	sum := func(l []int) int {
+		n := 0
+		for _, x := range l {
+			n += x
+		}
+		return n
+	}
+	first := func(l []int) int { return sum(l[:min(1, len(l))]) }
+	none := func([]int) int { return -7 }
+	for i, x := range []struct {
+		lists [][]int
+		worth func([]int) int
+		best  []int
+		most  int
+	}{
+		{nil, none, nil, 0}, {[][]int{{3}}, none, []int{3}, -7}, {[][]int{nil}, none, nil, -7},
+		{[][]int{{1, 2}, {4}, {3, 2}}, sum, []int{3, 2}, 5}, {[][]int{{-1, -2}, {-4}, {-3, -2}}, sum, []int{-1, -2}, -3},
+		{[][]int{{1, 2}, {3}, {2, 1}}, sum, []int{3}, 3}, {[][]int{{3}, {1, 2}, nil}, none, nil, -7},
+		{[][]int{{2, 1}, {1, 2}, {0, 3}, {2, 1}}, sum, []int{0, 3}, 3}, {[][]int{{1, 3}, {1, 2}, {1, 4}}, first, []int{1, 2}, 1}, {[][]int{{1, 2}, {1, 3}}, none, []int{1, 2}, -7},
+	} {
+		if best, most := every.Best(slices.Values(x.lists), x.worth); !slices.Equal(best, x.best) || most != x.most {
+			t.Error(i, best, most)
+		}
+	}
+	if best, most := every.Best(every.Part([]string{"c", "a", "b"}), func(l []string) int { return min(2, len(l)) }); most != 2 || !slices.Equal(best, []string{"a", "b"}) {
+		t.Error(best, most)
+	}
+}

@@ -9,13 +9,7 @@ import (
 )
 
 // example returns the notes of the chapter's examples.
-func example() api.Notes {
-	return trial.Noted(
-		trial.Gives(101, 100, 30, 2, 5, 999),
-		trial.As(api.KnownOpen, trial.Gives(102, 200, 10, 2, 8, 20)),
-		trial.Cancels(103, 300, 101, 10, 12),
-		trial.Gives(104, 400, 30, 1, 15, 15))
-}
+func example() api.Notes { return trial.ExampleNotes() }
 
 // changed returns the notes of the examples with a change.
 func changed(change func(l []api.Note)) api.Notes {

@@ -85,15 +85,6 @@ func TestArgumentsAreNotWritten(t *testing.T) {
 	}
 }
 
-// scribbleNotes writes over all lists of notes, none of which may share memory with another one.
-func scribbleNotes(t *testing.T, n, want api.Notes) {
-	t.Helper()
-	trial.Scribble(n.Notes, trial.As(9, trial.Gives(-1, -1, -1, -1, -1, -1)))
-	if shared := trial.ScribbleRegister(n.Register, want.Register); len(shared) > 0 {
-		t.Error("two lists of a result share memory:", shared)
-	}
-}
-
 // R3: what is written to a result is not written to arguments, nor to other results.
 func TestResultsAreNew(t *testing.T) {
 	rnd := rand.New(rand.NewSource(43))
@@ -122,7 +113,9 @@ func TestResultsAreNew(t *testing.T) {
 		pairs, _ := note.Clash(n, signed)
 		trial.Scribble(pairs, [2]int{-1, -1})
 		if settled, e := note.Settle(n, a.number, true); e == api.OK {
-			scribbleNotes(t, settled, trial.CloneNotes(n))
+			if shared := trial.ScribbleNotes(settled, trial.CloneNotes(n)); len(shared) > 0 {
+				t.Error("two lists of a result share memory:", shared)
+			}
 		}
 		if after := allOf(n, signed); after != before {
 			t.Fatal(before, "is", after)

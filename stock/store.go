@@ -1,8 +1,6 @@
 package stock
 
 import (
-	"cmp"
-	"iter"
 	"slices"
 
 	"blueline/api"
@@ -104,7 +102,7 @@ func (w store) proof() ([]int, int) {
 	for l := range len(w.Piles) {
 		letters = append(letters, l+1)
 	}
-	return firstOfBest(every.Part(letters), w.surplus)
+	return every.Best(every.Part(letters), w.surplus)
 }
 
 // scrap returns how many pieces are scrapped at least: just so many have no place, whoever gets the others (P4.6).
@@ -117,17 +115,4 @@ func (w store) scrap() int {
 func (w store) scrapIn(signed []int) int {
 	in, _ := w.in(signed)
 	return in.scrap()
-}
-
-// firstOfBest returns the list that is worth most, and how much: of several ones the shortest, of these the first one (the first thing that differs is less).
-func firstOfBest[T cmp.Ordered](lists iter.Seq[[]T], worth func([]T) int) ([]T, int) {
-	var best []T
-	most, found := 0, false
-	for l := range lists {
-		n := worth(l)
-		if !found || cmp.Or(cmp.Compare(most, n), cmp.Compare(len(l), len(best)), slices.Compare(l, best)) < 0 {
-			best, most, found = l, n, true
-		}
-	}
-	return best, most
 }

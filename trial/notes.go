@@ -34,6 +34,15 @@ func Noted(l ...api.Note) api.Notes {
 	return api.Notes{Register: Example(), Notes: l}
 }
 
+// ExampleNotes returns the notes of the examples of layer 3, and of layers above it.
+func ExampleNotes() api.Notes {
+	return Noted(
+		Gives(101, 100, 30, 2, 5, 999),
+		As(api.KnownOpen, Gives(102, 200, 10, 2, 8, 20)),
+		Cancels(103, 300, 101, 10, 12),
+		Gives(104, 400, 30, 1, 15, 15))
+}
+
 // Lettered returns a register of a part with so many letters.
 func Lettered(drawing, last int) api.Register {
 	var r api.Register
@@ -72,6 +81,12 @@ func Whole(n api.Notes) api.Notes {
 		n.Register.Issues[i].Items, n.Register.Issues[i].Dims = WholeList(x.Items), WholeList(x.Dims)
 	}
 	return n
+}
+
+// ScribbleNotes writes over all lists of notes, from the last one on, and returns the issues of which a list had been written over with another one.
+func ScribbleNotes(n, want api.Notes) []api.Issue {
+	Scribble(n.Notes, As(9, Gives(-1, -1, -1, -1, -1, -1)))
+	return ScribbleRegister(n.Register, want.Register)
 }
 
 // WholeList returns a list with all that is in the memory behind its end.

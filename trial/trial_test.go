@@ -93,6 +93,21 @@ func TestNotes(t *testing.T) {
 	}
 }
 
+func TestScribbleNotes(t *testing.T) {
+	n, want := trial.CloneNotes(trial.ExampleNotes()), trial.ExampleNotes()
+	if l := trial.ScribbleNotes(n, want); len(l) > 0 {
+		t.Error(l)
+	}
+	if n.Notes[0].Number != -1 || n.Notes[3].Signed != 9 || n.Register.Issues[6].Letter != -1 {
+		t.Error(n)
+	}
+	n = trial.CloneNotes(want)
+	n.Register.Issues[4].Dims = n.Register.Issues[3].Dims
+	if l := trial.ScribbleNotes(n, trial.CloneNotes(n)); len(l) != 1 || l[0].Drawing != 30 || l[0].Letter != 1 {
+		t.Error(l)
+	}
+}
+
 func TestEmptyNotes(t *testing.T) {
 	n := trial.EmptyNotes(api.Notes{Register: trial.Example()})
 	if n.Notes == nil || slices.ContainsFunc(n.Register.Issues, func(x api.Issue) bool { return x.Items == nil || x.Dims == nil }) {
