@@ -17,27 +17,15 @@ func ref(drawing, letter int) api.Ref { return api.Ref{Drawing: drawing, Letter:
 
 func span(lo, hi int) api.Span { return api.Span{Lo: lo, Hi: hi} }
 
-// heap returns a heap of an issue.
-func heap(drawing, letter, lo, hi int) api.Heap {
-	return api.Heap{Drawing: drawing, Letter: letter, Count: span(lo, hi)}
-}
-
-// report returns a report of a kind.
-func report(kind uint8, number, machine, drawing, letter int) api.Report {
-	return api.Report{Number: number, Machine: machine, Drawing: drawing, Letter: letter, Kind: kind}
-}
-
-func has(number, machine, drawing, letter int) api.Report {
-	return report(api.ReportHas, number, machine, drawing, letter)
-}
-
-func all(number, machine, drawing, letter int) api.Report {
-	return report(api.ReportAll, number, machine, drawing, letter)
-}
-
-func none(number, machine, drawing, letter int) api.Report {
-	return report(api.ReportNone, number, machine, drawing, letter)
-}
+// Short names of what is in nearly every test.
+var (
+	heap, report   = trial.Heap, trial.Report
+	has, all, none = trial.Has, trial.All, trial.None
+	partsOf, clone = trial.PartsOf, trial.CloneBuilt
+	someBuilt      = trial.SomeBuilt
+	someReport     = trial.SomeReport
+	someNumbers    = trial.SomeNumbers
+)
 
 // exampleNotes returns the notes of the chapter's examples.
 func exampleNotes() api.Notes {
@@ -132,65 +120,6 @@ func openBuilt() api.Built {
 	return b
 }
 
-// someMachines returns machines, few of them far away, in increasing order.
-func someMachines(rnd *rand.Rand, n api.Notes) []int {
-	l := trial.MachinesOf(n)
-	for range 6 {
-		l = append(l, 1+rnd.Intn(25))
-	}
-	rnd.Shuffle(len(l), func(i, k int) { l[i], l[k] = l[k], l[i] })
-	l = l[:rnd.Intn(min(len(l), api.MaxBuilds)+1)]
-	slices.Sort(l)
-	return slices.Compact(l)
-}
-
-// partsOf returns all issues of parts and standard parts.
-func partsOf(n api.Notes) []api.Ref {
-	var l []api.Ref
-	for _, x := range n.Register.Issues {
-		if x.Kind != api.KindAssembly {
-			l = append(l, ref(x.Drawing, x.Letter))
-		}
-	}
-	return l
-}
-
-// someHeaps returns heaps of some issues that have a next one; the more there are, the less far their numbers go.
-func someHeaps(rnd *rand.Rand, n api.Notes) []api.Heap {
-	parts := partsOf(n)
-	parts = slices.DeleteFunc(parts, func(x api.Ref) bool { return !slices.Contains(partsOf(n), ref(x.Drawing, x.Letter+1)) })
-	rnd.Shuffle(len(parts), func(i, k int) { parts[i], parts[k] = parts[k], parts[i] })
-	parts = parts[:min(len(parts), rnd.Intn(api.MaxHeaps+1))]
-	far := []int{0, 12, 4, 2, 2}[len(parts)]
-	var l []api.Heap
-	for _, x := range parts {
-		lo := rnd.Intn(1 + rnd.Intn(20))
-		l = append(l, heap(x.Drawing, x.Letter, lo, lo+rnd.Intn(far+1)))
-	}
-	return l
-}
-
-// someReport returns any valid report of machines.
-func someReport(rnd *rand.Rand, b api.Built, number int) api.Report {
-	x := partsOf(b.Notes)[rnd.Intn(len(partsOf(b.Notes)))]
-	return report(uint8(1+rnd.Intn(3)), number, b.Machines[rnd.Intn(len(b.Machines))], x.Drawing, x.Letter)
-}
-
-// someBuilt returns any valid machines without reports.
-func someBuilt(rnd *rand.Rand) api.Built {
-	b := api.Built{Notes: trial.SomeNotes(rnd)}
-	for i, x := range b.Notes.Notes {
-		b.Notes.Notes[i].UseUp = x.Letter >= 2 && rnd.Intn(4) > 0
-	}
-	drawings := trial.DrawingsOf(b.Notes)
-	b.Of = drawings[0]
-	if rnd.Intn(4) == 0 {
-		b.Of = drawings[rnd.Intn(len(drawings))]
-	}
-	b.Machines, b.Heaps = someMachines(rnd, b.Notes), someHeaps(rnd, b.Notes)
-	return b
-}
-
 // someReports returns reports, some of which hold in one truth of the machines, some perhaps in none.
 func someReports(rnd *rand.Rand, b api.Built, truths []truth) []api.Report {
 	if len(b.Machines) == 0 {
@@ -209,22 +138,6 @@ func someReports(rnd *rand.Rand, b api.Built, truths []truth) []api.Report {
 		l = append(l, r)
 	}
 	return l
-}
-
-// someNumbers returns so many Numbers, in increasing order, no one twice.
-func someNumbers(rnd *rand.Rand, count int) []int {
-	l := rnd.Perm([]int{count, 2 * count, api.MaxId}[rnd.Intn(3)])[:count]
-	for i := range l {
-		l[i]++
-	}
-	slices.Sort(l)
-	return l
-}
-
-// clone returns machines in memory of their own.
-func clone(b api.Built) api.Built {
-	b.Notes, b.Machines, b.Heaps, b.Reports = trial.CloneNotes(b.Notes), slices.Clone(b.Machines), slices.Clone(b.Heaps), slices.Clone(b.Reports)
-	return b
 }
 
 // truth is a truth of the machines: the notes that were signed, how many old pieces were on each heap, what each machine has, and which one took a piece from each heap at last.

@@ -57,17 +57,9 @@ func TestChangedSince(t *testing.T) {
 	}
 }
 
-// roomy returns machines all of whose lists have memory behind their ends.
-func roomy(b api.Built, number int) api.Built {
-	return api.Built{
-		Notes: trial.RoomyNotes(b.Notes, number), Of: b.Of, Machines: trial.Roomy(b.Machines, number),
-		Heaps: trial.Roomy(b.Heaps, heap(number, number, number, number)), Reports: trial.Roomy(b.Reports, has(number, number, number, number)),
-	}
-}
-
 // allOf is a text of all arguments, with what is behind the ends of their lists.
 func allOf(b api.Built, a arguments) string {
-	return fmt.Sprint(b, a, trial.Whole(b.Notes), trial.WholeList(b.Machines), trial.WholeList(b.Heaps), trial.WholeList(b.Reports), trial.WholeList(a.signed))
+	return fmt.Sprint(b, a, trial.WholeBuilt(b), trial.WholeList(a.signed))
 }
 
 // someArguments returns arguments that are good for machines, of which there are some.
@@ -91,7 +83,7 @@ func TestArgumentsAreNotWritten(t *testing.T) {
 		}
 		a := someArguments(rnd, b)
 		for _, number := range append([]int{0, 1, 7}, trial.OpenOf(b.Notes)...) {
-			other, c := roomy(b, number), a
+			other, c := trial.RoomyBuilt(b, number), a
 			c.signed = trial.Roomy(a.signed, number)
 			before := allOf(other, c)
 			if texts, again := trial.Texts(functions(), b, a), trial.Texts(functions(), other, c); !slices.Equal(texts, again) {
@@ -149,7 +141,7 @@ func TestResultsAreNew(t *testing.T) {
 		if len(b.Machines) == 0 {
 			continue
 		}
-		b = roomy(b, 3)
+		b = trial.RoomyBuilt(b, 3)
 		a := someArguments(rnd, b)
 		a.signed = trial.Roomy(a.signed, 3)
 		before := allOf(b, a)
@@ -167,9 +159,7 @@ func TestResultsAreNew(t *testing.T) {
 // R4: a nil list and an empty one are the same, wherever they are.
 func TestNilAndEmpty(t *testing.T) {
 	for name, b := range valid() {
-		empty := clone(b)
-		empty.Notes = trial.EmptyNotes(b.Notes)
-		empty.Machines, empty.Heaps, empty.Reports = append([]int{}, b.Machines...), append([]api.Heap{}, b.Heaps...), append([]api.Report{}, b.Reports...)
+		empty := trial.EmptyBuilt(b)
 		a := good()
 		a.signed = nil
 		c := a

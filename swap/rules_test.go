@@ -57,8 +57,7 @@ func TestChangedSince(t *testing.T) {
 
 // roomy returns swaps all of whose lists have memory behind their ends.
 func roomy(s api.Swaps, number int) api.Swaps {
-	behind := api.Rule{Number: number, Day: number, From: api.Ref{Drawing: 30, Letter: 1}, To: api.Ref{Drawing: 30, Letter: 2}, Both: true, Breaks: number}
-	return api.Swaps{Notes: trial.RoomyNotes(s.Notes, number), Rules: trial.Roomy(s.Rules, behind)}
+	return api.Swaps{Notes: trial.RoomyNotes(s.Notes, number), Rules: trial.RoomyRules(s.Rules, number)}
 }
 
 // allOf is a text of all arguments, with what is behind the ends of their lists.

@@ -1,7 +1,6 @@
 package swap_test
 
 import (
-	"cmp"
 	"fmt"
 	"math/rand"
 	"slices"
@@ -14,37 +13,13 @@ import (
 	"blueline/trial"
 )
 
-// is returns the issue that a word such as 30B names.
-func is(word string) api.Ref {
-	drawing, e := strconv.Atoi(word[:len(word)-1])
-	if e != nil {
-		panic(e)
-	}
-	return api.Ref{Drawing: drawing, Letter: int(word[len(word)-1]-'A') + 1}
-}
-
-// all returns the issues that words name.
-func all(words string) []api.Ref {
-	var l []api.Ref
-	for _, word := range strings.Fields(words) {
-		l = append(l, is(word))
-	}
-	return l
-}
-
-// issueText is a word that names an issue.
-func issueText(x api.Ref) string {
-	return strconv.Itoa(x.Drawing) + string(rune('A'+x.Letter-1))
-}
-
-// issuesText is the words that name issues.
-func issuesText(l []api.Ref) string {
-	var words []string
-	for _, x := range l {
-		words = append(words, issueText(x))
-	}
-	return strings.Join(words, " ")
-}
+// Short names of what is in nearly every test.
+var (
+	is, all               = trial.Is, trial.AreAll
+	issueText, issuesText = trial.IssueText, trial.IssuesText
+	rule, both, breaks    = trial.Rule, trial.BothWays, trial.Breaks
+	letting, ruleOrder    = trial.Letting, trial.RuleOrder
+)
 
 // stepsText is a text of steps, such as: note 101 30B-30A, rule 1 40A-30B.
 func stepsText(l []api.Step) string {
@@ -59,32 +34,9 @@ func stepsText(l []api.Step) string {
 	return strings.Join(words, ", ")
 }
 
-// rule returns a rule that a piece of one issue may be put in the place of another one.
-func rule(number, day int, from, to string) api.Rule {
-	return api.Rule{Number: number, Day: day, From: is(from), To: is(to)}
-}
-
-// both returns a rule that pieces of two issues may be put in each other's places.
-func both(number, day int, from, to string) api.Rule {
-	x := rule(number, day, from, to)
-	x.Both = true
-	return x
-}
-
-// breaks returns a rule that another one is broken.
-func breaks(number, day, other int) api.Rule {
-	return api.Rule{Number: number, Day: day, Breaks: other}
-}
-
 // breaking returns a rule that breaks another one, too.
 func breaking(other int, x api.Rule) api.Rule {
 	x.Breaks = other
-	return x
-}
-
-// letting returns a note by which pieces may replace each other in some ways.
-func letting(ways uint8, x api.Note) api.Note {
-	x.Ways = ways
 	return x
 }
 
@@ -168,46 +120,12 @@ func valid() map[string]api.Swaps {
 }
 
 // issuesOf returns all issues of the register, in order.
-func issuesOf(s api.Swaps) []api.Ref {
-	var l []api.Ref
-	for _, x := range s.Notes.Register.Issues {
-		l = append(l, api.Ref{Drawing: x.Drawing, Letter: x.Letter})
-	}
-	return l
-}
+func issuesOf(s api.Swaps) []api.Ref { return trial.IssuesOf(s.Notes) }
 
 // someSwaps returns any valid swaps, with many rules that break each other; the days of their notes and rules are from 0 to 4.
 func someSwaps(rnd *rand.Rand) api.Swaps {
-	s := api.Swaps{Notes: trial.SomeNotes(rnd)}
-	issues := issuesOf(s)
-	if len(issues) < 2 {
-		return s
-	}
-	top := []int{api.MaxRules, 40, api.MaxId}[rnd.Intn(3)]
-	for _, number := range rnd.Perm(top)[:min(rnd.Intn(2*api.MaxRules), api.MaxRules)] {
-		x := api.Rule{Number: 1 + number, Day: rnd.Intn(5)}
-		if rnd.Intn(5) > 0 {
-			two := rnd.Perm(len(issues))
-			x.From, x.To, x.Both = issues[two[0]], issues[two[1]], rnd.Intn(4) == 0
-		}
-		s.Rules = append(s.Rules, x)
-	}
-	slices.SortFunc(s.Rules, ruleOrder)
-	often := []int{2, 4, 20}[rnd.Intn(3)]
-	for i := range s.Rules {
-		x := &s.Rules[i]
-		if i > 0 && (x.From == api.Ref{} || rnd.Intn(often) == 0) {
-			x.Breaks = s.Rules[rnd.Intn(i)].Number
-		} else if x.From == (api.Ref{}) {
-			x.From, x.To = issues[1], issues[0]
-		}
-	}
-	return s
-}
-
-// ruleOrder compares the places of two rules in a list.
-func ruleOrder(x, y api.Rule) int {
-	return cmp.Or(cmp.Compare(x.Day, y.Day), cmp.Compare(x.Number, y.Number))
+	n := trial.SomeNotes(rnd)
+	return api.Swaps{Notes: n, Rules: trial.SomeRules(rnd, n)}
 }
 
 // clone returns swaps in memory of their own.

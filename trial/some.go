@@ -10,6 +10,7 @@ import (
 type Dice interface {
 	Intn(n int) int
 	Perm(n int) []int
+	Shuffle(n int, swap func(i, k int))
 }
 
 // SomeRegister returns a register with several letters, of drawings that need each other, or do not.

@@ -9,8 +9,10 @@ import (
 	"testing"
 
 	"blueline/api"
+	"blueline/built"
 	"blueline/note"
 	"blueline/sheet"
+	"blueline/swap"
 	"blueline/trial"
 )
 
@@ -181,5 +183,77 @@ func TestFunctions(t *testing.T) {
 	wrongs[1] = trial.Wrong[[2]int]{Word: "first", Make: func(a *[2]int) { a[0] = 8 }, Error: 8}
 	if l := trial.Disordered(functionsOf(false), 0, [2]int{}, wrongs, isNothing); !slices.Equal(l, []string{"F, first, first:  error 8"}) {
 		t.Error(l)
+	}
+}
+
+func TestBuilt(t *testing.T) {
+	rnd := rand.New(rand.NewSource(2))
+	for range 100 {
+		b := trial.SomeBuilt(rnd)
+		if len(b.Machines) > 0 {
+			for _, number := range trial.SomeNumbers(rnd, rnd.Intn(api.MaxReports+1)) {
+				b.Reports = append(b.Reports, trial.SomeReport(rnd, b, number))
+			}
+		}
+		for _, other := range []api.Built{b, trial.CloneBuilt(b), trial.RoomyBuilt(b, 3), trial.EmptyBuilt(b)} {
+			if built.Check(other) != api.OK || fmt.Sprint(other) != fmt.Sprint(b) {
+				t.Fatal(other, "is not", b)
+			}
+		}
+	}
+	b := api.Built{Notes: trial.ExampleNotes(), Of: 10, Machines: []int{4, 6}, Heaps: []api.Heap{trial.Heap(30, 1, 5, 9)}, Reports: []api.Report{trial.Has(1, 4, 30, 1), trial.All(2, 4, 30, 1), trial.None(3, 6, 30, 2)}}
+	roomy, other := trial.RoomyBuilt(b, 7), trial.CloneBuilt(b)
+	before := fmt.Sprint(trial.WholeBuilt(roomy))
+	for i, change := range []func(){
+		func() { roomy.Notes.Notes[:5][4].Day++ },
+		func() { roomy.Machines[:3][2]++ },
+		func() { roomy.Heaps[:2][1].Letter++ },
+		func() { roomy.Reports[:5][4].Kind++ },
+	} {
+		change()
+		after := fmt.Sprint(trial.WholeBuilt(roomy))
+		if after == before || fmt.Sprint(roomy) != fmt.Sprint(b) {
+			t.Error(i, after)
+		}
+		before = after
+	}
+	other.Notes.Notes[0].Day, other.Machines[0], other.Heaps[0].Letter, other.Reports[0].Kind = 9, 9, 9, 9
+	if fmt.Sprint(roomy) != fmt.Sprint(b) || b.Machines[0] != 4 || b.Reports[0].Kind != api.ReportHas || b.Reports[1].Kind != api.ReportAll || b.Reports[2].Kind != api.ReportNone {
+		t.Error(b)
+	}
+	if empty := trial.EmptyBuilt(api.Built{}); empty.Machines == nil || empty.Heaps == nil || empty.Reports == nil || empty.Notes.Notes == nil {
+		t.Error(empty)
+	}
+	if l := trial.PartsOf(b.Notes); trial.IssuesText(l) != "30A 30B 40A 50A" {
+		t.Error(l)
+	}
+}
+
+func TestRules(t *testing.T) {
+	rnd := rand.New(rand.NewSource(3))
+	broken := 0
+	for range 200 {
+		n := trial.SomeNotes(rnd)
+		l := trial.SomeRules(rnd, n)
+		if e := swap.Check(api.Swaps{Notes: n, Rules: l}); e != api.OK || !slices.IsSortedFunc(l, trial.RuleOrder) {
+			t.Fatal(n, l, e)
+		}
+		if slices.ContainsFunc(l, func(x api.Rule) bool { return x.Breaks > 0 }) {
+			broken++
+		}
+	}
+	if broken < 100 {
+		t.Error("few are broken:", broken)
+	}
+	l := []api.Rule{trial.Rule(1, 2, "10A", "30B"), trial.BothWays(3, 2, "30B", "10H"), trial.Breaks(2, 4, 1)}
+	want := []api.Rule{{Number: 1, Day: 2, From: api.Ref{Drawing: 10, Letter: 1}, To: api.Ref{Drawing: 30, Letter: 2}}, {Number: 3, Day: 2, From: api.Ref{Drawing: 30, Letter: 2}, To: api.Ref{Drawing: 10, Letter: 8}, Both: true}, {Number: 2, Day: 4, Breaks: 1}}
+	if roomy := trial.RoomyRules(l, 5); !slices.Equal(l, want) || !slices.Equal(roomy, want) || roomy[:4][3].Number != 5 {
+		t.Error(l)
+	}
+	if x := trial.Letting(api.WayOld, trial.Gives(1, 2, 30, 2, 5, 6)); x.Ways != api.WayOld || x.Number != 1 {
+		t.Error(x)
+	}
+	if text := trial.IssuesText(trial.IssuesOf(trial.ExampleNotes())); text != "10A 10B 20A 30A 30B 40A 50A" || trial.IssuesText(trial.AreAll(text)) != text {
+		t.Error(text)
 	}
 }
